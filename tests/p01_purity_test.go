@@ -2,6 +2,7 @@ package tests
 
 import (
 	"reflect"
+	"slices"
 	"strconv"
 	"strings"
 	"sync"
@@ -139,13 +140,178 @@ func TestP1ErrorsComeAlone(t *testing.T) {
 	}
 }
 
+func oddClocks() []impl.Clock {
+	return append(invalidClocks(), sampleClock(), plain(10), impl.Clock{Cell: 4, Low: 2, High: 400, Phase: 64, Speed: 64}, impl.Clock{Cell: 4, Low: 2, High: 400, Phase: 1, Speed: 1}, impl.Clock{Cell: 200, Low: 200, High: 400, Speed: 64})
+}
+
+// oddLists are arguments for lists of jitter, of drops and of times.
+func oddLists() [][]int64 {
+	list := [][]int64{nil, {}, {0}, {2, -1}, {0, 1}, {0, 1, 2}, {5, 15, 25}, {5, 5}, upTo(impl.MaxGaps), upTo(impl.MaxGaps + 1)}
+	return append(append(list, invalidJitters()...), invalidDrops()...)
+}
+
+func oddSpans() []impl.Span {
+	return append(invalidSpans(), impl.Span{}, impl.Span{From: 10, To: 30, Times: []int64{12, 20}}, impl.Span{From: 0, To: impl.MaxTicks, Times: upTo(impl.MaxGaps + 1)})
+}
+
+// stage2Clocks returns the results of all functions of chapter 3.
+func stage2Clocks(f impl.Flux, c impl.Clock, x impl.Locked, n int64) []any {
+	made, madeCode := impl.PlainClock(n)
+	start, startCode := impl.StartClock(c)
+	cells, next, stepCode := impl.StepClock(c, x, n)
+	track, trackCode := impl.RecoverCells(f, c)
+	errors, errorsCode := impl.ClockErrors(f, c)
+	cell, cellCode := impl.GuessCell(f)
+	counts, countsCode := impl.GapCounts(f, c)
+	return []any{impl.ValidClock(c), made, madeCode, start, startCode, cells, stepCode, next, stepCode, track, trackCode, errors, errorsCode, cell, cellCode, counts, countsCode}
+}
+
+// stage2Noises returns the results of all functions of chapter 4.
+func stage2Noises(f, g impl.Flux, list []int64, w impl.Span, n, m int64) []any {
+	noise := impl.Noise{Drift: n, Jitter: list, Drops: list, Weak: []impl.Span{w, w}}
+	made, madeCode := impl.FluxOfTimes(list, n, m)
+	faster, driftCode := impl.AddDrift(f, n)
+	moved, jitterCode := impl.AddJitter(f, list)
+	fewer, dropCode := impl.DropChanges(f, list)
+	weak, weakCode := impl.WeakenFlux(f, w)
+	all, noiseCode := impl.AddNoise(f, noise)
+	only, onlyCode := impl.AddNoise(f, impl.Noise{Weak: noise.Weak[:1]})
+	most, isMost := impl.JitterBetween(f, g)
+	return []any{impl.ValidNoise(noise), impl.CommonChanges(f, g), isMost, most, made, madeCode, faster, driftCode, moved, jitterCode, fewer, dropCode, weak, weakCode, all, noiseCode, only, onlyCode}
+}
+
+// nothing requires that results are zero values if the code behind them is not OK.
+func nothing(t *testing.T, what string, pairs ...any) {
+	t.Helper()
+	for i := 0; i < len(pairs); i += 2 {
+		if pairs[i+1] == int64(impl.OK) {
+			continue
+		}
+		f, isFlux := pairs[i].(impl.Flux)
+		list, isList := pairs[i].([]int64)
+		if isFlux && impl.SameFlux(f, impl.Flux{}) || isList && len(list) == 0 {
+			continue
+		}
+		if isFlux || isList || !reflect.ValueOf(pairs[i]).IsZero() {
+			t.Errorf("%s %d: result with an error: %s", what, i, brief(pairs[i]))
+		}
+	}
+}
+
+func TestP1Clocks(t *testing.T) {
+	numbers := oddNumbers()
+	for i, f := range oddFluxes() {
+		for _, c := range oddClocks() {
+			for j, n := range numbers {
+				x := impl.Locked{Period: numbers[(j+11)%len(numbers)], Offset: n}
+				if j%2 == 0 {
+					x.Period = c.Cell * impl.Unit
+				}
+				for _, g := range []impl.Flux{f, {Cell: n, First: n, Gaps: []int64{n, 7, n}}} {
+					got := stage2Clocks(g, c, x, n)
+					if !reflect.DeepEqual(got, stage2Clocks(g, c, x, n)) {
+						t.Errorf("other results for flux %s, clock %v, state %v and %d", brief(g), c, x, n)
+					}
+					nothing(t, "chapter 3", got[1:]...)
+				}
+			}
+		}
+		is(t, "flux is unchanged", impl.SameFlux(f, oddFluxes()[i]), true)
+	}
+}
+
+func TestP1Noises(t *testing.T) {
+	for i, f := range oddFluxes() {
+		g := oddFluxes()[(i+1)%len(oddFluxes())]
+		for j, list := range oddLists() {
+			for k, w := range oddSpans() {
+				n, m := oddNumbers()[(j+k)%len(oddNumbers())], oddNumbers()[(j*k)%len(oddNumbers())]
+				got := stage2Noises(f, g, list, w, n, m)
+				if !reflect.DeepEqual(got, stage2Noises(f, g, list, w, n, m)) {
+					t.Errorf("other results for flux %d, list %d and span %d", i, j, k)
+				}
+				nothing(t, "chapter 4", got[4:]...)
+				is(t, "jitter of nothing", got[2] == false && got[3] != int64(0), false)
+			}
+		}
+		is(t, "flux is unchanged", impl.SameFlux(f, oddFluxes()[i]), true)
+	}
+}
+
+// roomyList returns a list with room behind it, and all of that room.
+func roomyList(list []int64) ([]int64, []int64) {
+	all := append(append([]int64{}, list...), 77, 78, 79, 80)
+	return all[:len(list)], all
+}
+
+func TestP1NoiseLeavesItsArguments(t *testing.T) {
+	for _, f := range oddFluxes() {
+		full, gaps := roomy(f)
+		before := slices.Clone(gaps)
+		for _, list := range oddLists() {
+			short, all := roomyList(list)
+			for _, w := range oddSpans() {
+				times, room := roomyList(w.Times)
+				stage2Noises(full, full, short, impl.Span{From: w.From, To: w.To, Times: times}, 40, 10)
+				is(t, "times of the span", room, append(slices.Clone(w.Times), 77, 78, 79, 80))
+			}
+			is(t, "list", all, append(slices.Clone(list), 77, 78, 79, 80))
+		}
+		for _, c := range oddClocks() {
+			stage2Clocks(full, c, impl.Locked{Period: 640}, 23)
+		}
+		is(t, "gaps", gaps, before)
+	}
+}
+
+func TestP1ResultsOfClocksAndNoiseShareNoMemory(t *testing.T) {
+	f, gaps := roomy(sampleFlux())
+	times, room := roomyList([]int64{15, 25, 45})
+	before, beforeRoom := slices.Clone(gaps), slices.Clone(room)
+	results := func() [][]int64 {
+		made, _ := impl.FluxOfTimes(times, 70, 10)
+		same, _ := impl.AddDrift(f, 0)
+		moved, _ := impl.AddJitter(f, nil)
+		all, _ := impl.DropChanges(f, nil)
+		fewer, _ := impl.DropChanges(f, []int64{1})
+		still, _ := impl.WeakenFlux(f, impl.Span{})
+		weak, _ := impl.WeakenFlux(f, impl.Span{From: 0, To: 70, Times: times})
+		calm, _ := impl.AddNoise(f, impl.Noise{})
+		errors, _ := impl.ClockErrors(f, plain(10))
+		counts, _ := impl.GapCounts(f, plain(10))
+		return [][]int64{made.Gaps, same.Gaps, moved.Gaps, all.Gaps, fewer.Gaps, still.Gaps, weak.Gaps, calm.Gaps, errors, counts}
+	}
+	first, second, want := results(), results(), results()
+	for _, list := range first {
+		list = list[:cap(list)]
+		for i := range list {
+			list[i] = -5
+		}
+	}
+	is(t, "gaps", gaps, before)
+	is(t, "times", room, beforeRoom)
+	is(t, "other results", second, want)
+}
+
+func TestP1NilAndEmptyNoiseAreAlike(t *testing.T) {
+	full := impl.Noise{Jitter: []int64{}, Drops: []int64{}, Weak: []impl.Span{{From: 3, To: 4, Times: []int64{}}}}
+	none := impl.Noise{Weak: []impl.Span{{From: 3, To: 4}}}
+	for _, f := range oddFluxes() {
+		got, gotCode := impl.AddNoise(f, full)
+		want, wantCode := impl.AddNoise(f, none)
+		is(t, "noise", []any{gotCode, impl.SameFlux(got, want)}, []any{wantCode, true})
+	}
+}
+
 func TestP1CallsAtTheSameTime(t *testing.T) {
 	var wait sync.WaitGroup
 	got := make([]string, 8)
+	long := strings.Repeat("a", impl.MaxBytes+1)
 	for i := range got {
 		wait.Go(func() {
 			var out strings.Builder
 			for start := range int64(50) {
+				out.WriteString(strconv.FormatInt(impl.Crc16(long, start), 16))
 				out.WriteString(strconv.FormatInt(impl.Crc16("123456789", start), 16))
 			}
 			got[i] = out.String()
