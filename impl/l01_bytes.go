@@ -55,7 +55,7 @@ var codeNames = [...]string{
 	ErrSyntax:    "syntax",
 }
 
-// checkTable holds the check values of four bits each, which depend on nothing but CrcFactor; checkOnce fills it before its first use.
+// checkTable holds the check values of four bits each, which depend on nothing but CrcFactor; checkOnce fills it before its first use. It serves strings of more than MaxBytes bytes: all others are checked with checkOfBits, which reads no variable.
 var (
 	checkOnce  sync.Once
 	checkTable [16]int64
@@ -153,9 +153,19 @@ func fillChecks() {
 	}
 }
 
-// nextCheck continues a check value with four bits.
-func nextCheck(value int64, bits byte) int64 {
-	return ((value << 4) & maxWord) ^ checkTable[(value>>12)^int64(bits)]
+func checkInTable(bits int64) int64 { return checkTable[bits] }
+
+// checkOfBits returns the check value of four bits. It is a product because CrcFactor, shifted by up to three places for each of them, neither meets a copy of itself nor leaves a word: its bits are 0, 5 and 12.
+func checkOfBits(bits int64) int64 { return bits * CrcFactor }
+
+// continueCheck continues a check value with bytes, four bits at a time, of which check returns the check value.
+func continueCheck(s string, value int64, check func(int64) int64) int64 {
+	for i := range len(s) {
+		for _, bits := range [...]byte{s[i] >> 4, s[i] & 15} {
+			value = (value<<4)&maxWord ^ check(value>>12^int64(bits))
+		}
+	}
+	return value
 }
 
 // Crc16 continues a cyclic redundancy check.
@@ -163,13 +173,11 @@ func Crc16(s string, start int64) int64 {
 	if !within(0, maxWord, start) {
 		return -1
 	}
-	checkOnce.Do(fillChecks)
-	value := start
-	for i := range len(s) {
-		value = nextCheck(value, s[i]>>4)
-		value = nextCheck(value, s[i]&15)
+	if len(s) > MaxBytes {
+		checkOnce.Do(fillChecks)
+		return continueCheck(s, start, checkInTable)
 	}
-	return value
+	return continueCheck(s, start, checkOfBits)
 }
 
 // Sum16 returns the sum of bytes.

@@ -124,6 +124,27 @@ func TestP2CheckValues(t *testing.T) {
 	}
 }
 
+// Strings of more than MaxBytes bytes are checked with a table, all others with a function.
+func TestP2CheckValuesOfTheTableAndTheFunction(t *testing.T) {
+	zeros := strings.Repeat("\x00", impl.MaxBytes)
+	is(t, "check value of zeros", impl.Crc16(zeros, 0), int64(0))
+	for b := range 256 {
+		// Each half of a byte behind zeros meets another element of the table.
+		s := string([]byte{byte(b)})
+		is(t, "check value behind zeros", impl.Crc16(zeros+s, 0), impl.Crc16(s, 0))
+	}
+	from := source(13)
+	for _, count := range []int{impl.MaxBytes - 1, impl.MaxBytes, impl.MaxBytes + 1, 2 * impl.MaxBytes} {
+		s, start := from.bytes(count), from.below(65536)
+		half := impl.Crc16(s[:count/2], start)
+		is(t, "check value in two halves", impl.Crc16(s, start), impl.Crc16(s[count/2:], half))
+		is(t, "check value bit by bit", impl.Crc16(s, start), plainCheck(s, start))
+	}
+	for _, start := range []int64{-1, 65536} {
+		is(t, "no start", impl.Crc16(zeros+"a", start), int64(-1))
+	}
+}
+
 func TestP2CheckValuesAreLinear(t *testing.T) {
 	from := source(3)
 	for range 300 {
