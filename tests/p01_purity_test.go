@@ -322,3 +322,89 @@ func TestP1CallsAtTheSameTime(t *testing.T) {
 		is(t, "check values", s, got[0])
 	}
 }
+
+// stage3Codes returns the results of all functions of chapters 5 and 6.
+func stage3Codes(s, other string, n int64, last, mfm bool) []any {
+	fm, isFm := impl.DecodeFm(s)
+	bytes, isMfm := impl.DecodeMfm(s)
+	mark, isMark := impl.FmMarkOf(s)
+	groups, isCoded := impl.EncodeGcr(s)
+	back, isGcr := impl.DecodeGcr(s)
+	repaired, doubtful, isRepaired := impl.RepairGcr(s)
+	return []any{
+		isFm, fm, isMfm, bytes, isMark, mark, isCoded, groups, isGcr, back, isRepaired, repaired, isRepaired, doubtful,
+		impl.EncodeFm(s), impl.FmMark(n), impl.EncodeMfm(s, last), impl.MfmMark(), impl.LastBit(s), impl.ClockFaults(s, last, mfm), impl.RunsOf(s),
+		impl.GcrCode(n), impl.GcrValue(s), impl.GcrFaults(s), impl.GcrDistance(s, other), impl.NearestGcr(s), impl.LongestOnes(s),
+	}
+}
+
+// codedStrings are arguments that some functions of chapters 5 and 6 accept, and oddStrings.
+func codedStrings() []string {
+	from := source(70)
+	list := append(oddStrings(), noCells()...)
+	list = append(list, noGroups()...)
+	return append(append(list, allGroups()...), impl.MfmMark(), impl.FmMark(254), impl.EncodeFm("a1"), impl.EncodeMfm(from.bytes(maxClocked), true), from.cells(impl.MaxCells, 2), from.cells(160, 3), from.bytes(maxClocked), from.bytes(maxGrouped), from.bytes(maxGrouped+1))
+}
+
+func TestP1Codes(t *testing.T) {
+	for i, s := range codedStrings() {
+		for j, other := range []string{"", "01010", s} {
+			for k := range 4 {
+				n, last, mfm := oddNumbers()[(i+4*j+k)%len(oddNumbers())], k%2 == 0, k < 2
+				got := stage3Codes(s, other, n, last, mfm)
+				if !reflect.DeepEqual(got, stage3Codes(s, other, n, last, mfm)) {
+					t.Errorf("other results for %.40q, %.40q, %d, %v and %v", s, other, n, last, mfm)
+				}
+				for at := 0; at < 14; at += 2 {
+					if got[at] == false && !reflect.ValueOf(got[at+1]).IsZero() {
+						t.Errorf("%.40q, result %d with false: %s", s, at, brief(got[at+1]))
+					}
+				}
+			}
+		}
+	}
+}
+
+func TestP1NumbersOfCodes(t *testing.T) {
+	for _, n := range oddNumbers() {
+		is(t, "mark", len(impl.FmMark(n)), map[bool]int{true: 16}[n >= 0 && n < 256])
+		is(t, "group", len(impl.GcrCode(n)), map[bool]int{true: 5}[n >= 0 && n < 16])
+	}
+}
+
+func TestP1ResultsOfCodesShareNoMemory(t *testing.T) {
+	cells := "0001000010010100111000010"
+	results := func() [][]int64 {
+		_, doubtful, _ := impl.RepairGcr(cells)
+		return [][]int64{impl.ClockFaults(cells+"0", true, true), impl.ClockFaults(cells+"0", false, false), impl.RunsOf(cells), impl.GcrFaults(cells), impl.NearestGcr("00010"), impl.NearestGcr("00000"), doubtful}
+	}
+	first, second, want := results(), results(), results()
+	for i, list := range first {
+		is(t, "some results "+strconv.Itoa(i), len(list) > 0, true)
+		list = list[:cap(list)]
+		for j := range list {
+			list[j] = -5
+		}
+	}
+	is(t, "other results", second, want)
+	is(t, "later results", results(), want)
+}
+
+func TestP1CodesAtTheSameTime(t *testing.T) {
+	var wait sync.WaitGroup
+	got := make([]string, 8)
+	for i := range got {
+		wait.Go(func() {
+			from := source(71)
+			for range 20 {
+				s := from.bytes(maxClocked)
+				groups, _ := impl.EncodeGcr(s)
+				got[i] += impl.EncodeMfm(s, true) + impl.EncodeFm(s) + groups
+			}
+		})
+	}
+	wait.Wait()
+	for _, s := range got {
+		is(t, "cells", s == got[0], true)
+	}
+}
