@@ -1,6 +1,7 @@
 package tests
 
 import (
+	"math"
 	"reflect"
 	"slices"
 	"strconv"
@@ -406,5 +407,172 @@ func TestP1CodesAtTheSameTime(t *testing.T) {
 	wait.Wait()
 	for _, s := range got {
 		is(t, "cells", s == got[0], true)
+	}
+}
+
+// stage4Cells returns the results of all functions of chapter 7 that have strings and numbers as arguments.
+func stage4Cells(s, other string, n, m, k int64) []any {
+	part, isPart := impl.SliceCells(s, n, m)
+	mark, isMark := impl.MarkCells(n, m)
+	list, listCode := impl.FindMarks(s, n)
+	third, thirdCode := impl.FindMarks(s, k)
+	return []any{isPart, part, isMark, mark, listCode, list, thirdCode, third, impl.FindPattern(s, other), impl.SyncRuns(s), impl.MarkByte(n, m), impl.CellsBetween(n, m, k), impl.CellsBetween(impl.MaxCells, m, k)}
+}
+
+// stage4Tracks returns the results of all functions of chapter 8, and of those of chapter 7 that have marks as an argument.
+func stage4Tracks(t, u impl.TrackSpec, list []impl.Mark, s string, n, m int64) []any {
+	one := impl.SectorSpec{Cylinder: m, Head: m, Number: m, Size: m, Data: s, Deleted: m%2 == 0}
+	if len(t.Sectors) > 0 {
+		one = t.Sectors[0]
+	}
+	cells, isCells := impl.EncodeBytes(n, s, m%2 == 0)
+	id, isId := impl.IdField(n, one)
+	data, isData := impl.DataField(n, one)
+	track, trackCode := impl.BuildTrack(t)
+	order, isOrder := impl.Interleave(n, m)
+	next, isNext := impl.NextMark(list, n)
+	return []any{isCells, cells, isId, id, isData, data, trackCode, track, isOrder, order, isNext, next, impl.ValidSectorSpec(one), impl.ValidTrackSpec(t), impl.SameTrackSpec(t, u), impl.SectorCells(n, m), impl.TrackCells(t), impl.ValidMarks(list, n)}
+}
+
+// alone requires that results are zero values, or nil or empty lists, if what is before them is false or an error.
+func alone(t *testing.T, what string, pairs ...any) {
+	t.Helper()
+	for i := 0; i < len(pairs); i += 2 {
+		if pairs[i] == true || pairs[i] == int64(impl.OK) {
+			continue
+		}
+		v := reflect.ValueOf(pairs[i+1])
+		if v.Kind() == reflect.Slice && v.Len() > 0 || v.Kind() != reflect.Slice && !v.IsZero() {
+			t.Errorf("%s, result %d with an error: %s", what, i, brief(pairs[i+1]))
+		}
+	}
+}
+
+// oddTracks are some valid tracks, and invalid ones.
+func oddTracks() []impl.TrackSpec {
+	from := source(110)
+	list := append(invalidTracks(), sampleTrack(), from.sized(impl.TfMfm, 20, 2, 2, 2, 2, 2, 2, 2, 2))
+	for _, format := range formats() {
+		list = append(list, impl.TrackSpec{Format: format, Gap: 3}, from.track(format, 3), from.sized(format, 20, 0, 0, 1, 2, 2, 2, 2, 2))
+	}
+	return list
+}
+
+// oddMarks are valid and invalid lists of marks.
+func oddMarks() [][]impl.Mark {
+	const most = math.MaxInt64
+	return [][]impl.Mark{nil, {}, {{Kind: 1, At: 5, Body: 9}}, {{Kind: 1, At: 5, Body: 9}, {Kind: 3, At: 30, Body: 2}}, {{}, {}}, {{Kind: most, At: most, Body: most}}, {{Kind: 1, At: most}, {Kind: 1, At: math.MinInt64}}, {{Kind: -1, At: -1, Body: -1}}, make([]impl.Mark, impl.MaxMarks+1)}
+}
+
+func TestP1CellsAndMarks(t *testing.T) {
+	list := append(codedStrings(), marked(impl.TfFm, 1, 2), marked(impl.TfMfm, 1, 3), marked(impl.TfGcr, 1, 2), strings.Repeat(marked(impl.TfGcr, 1), impl.MaxMarks+1))
+	for i, s := range list {
+		for j, other := range []string{"", "1", "0101", s} {
+			for k, n := range append(formats(), oddNumbers()...) {
+				m, third := oddNumbers()[(i+j+k)%len(oddNumbers())], formats()[(i+j+k)%3]
+				if j > 0 && (i+k)%8 > 0 {
+					continue
+				}
+				got := stage4Cells(s, other, n, m, third)
+				if !reflect.DeepEqual(got, stage4Cells(s, other, n, m, third)) {
+					t.Errorf("other results for %.40q, %.40q, %d, %d and %d", s, other, n, m, third)
+				}
+				alone(t, "chapter 7", got[:8]...)
+			}
+		}
+	}
+	for _, n := range oddNumbers() {
+		for _, m := range oddNumbers() {
+			for _, k := range oddNumbers() {
+				steps := []int64{impl.CellsBetween(n, m, k), impl.CellsBetween(100, m, k)}
+				is(t, "cells between", []bool{steps[0] >= 0 && steps[0] < impl.MaxCells, steps[1] >= 0 && steps[1] < 100}, []bool{true, true})
+			}
+		}
+	}
+}
+
+func TestP1Tracks(t *testing.T) {
+	tracks, texts, numbers := oddTracks(), oddStrings(), oddNumbers()
+	for i, spec := range tracks {
+		for j, list := range oddMarks() {
+			for k, n := range append(formats(), numbers...) {
+				if (i+j+k)%4 > 0 {
+					continue
+				}
+				m, s, other := numbers[(i+j+k)%len(numbers)], texts[(i+j*3+k)%len(texts)], tracks[(i+1)%len(tracks)]
+				got := stage4Tracks(spec, other, list, s, n, m)
+				if !reflect.DeepEqual(got, stage4Tracks(spec, other, list, s, n, m)) {
+					t.Errorf("other results for track %d, marks %d, %.40q, %d and %d", i, j, s, n, m)
+				}
+				alone(t, "chapter 8", got[:12]...)
+			}
+		}
+	}
+}
+
+func TestP1TracksAndMarksAreUnchanged(t *testing.T) {
+	extra := impl.SectorSpec{Cylinder: 77, Data: "room"}
+	for i, spec := range oddTracks() {
+		all := append(slices.Clone(spec.Sectors), extra, extra, extra)
+		before := slices.Clone(all)
+		full := impl.TrackSpec{Format: spec.Format, Gap: spec.Gap, Sectors: all[:len(spec.Sectors)]}
+		for j, list := range oddMarks() {
+			marks := append(slices.Clone(list), impl.Mark{Kind: 77}, impl.Mark{Kind: 78})
+			beforeMarks := slices.Clone(marks)
+			stage4Tracks(full, full, marks[:len(list)], "a", 2, 3)
+			is(t, "marks "+strconv.Itoa(j), marks, beforeMarks)
+		}
+		is(t, "sectors of track "+strconv.Itoa(i), all, before)
+	}
+}
+
+func TestP1ResultsOfTracksShareNoMemory(t *testing.T) {
+	cells := marked(impl.TfGcr, 1, 2, 3) + strings.Repeat("1", 20) + "0"
+	marks := func() [][]impl.Mark {
+		gcr, _ := impl.FindMarks(cells, impl.TfGcr)
+		fm, _ := impl.FindMarks(marked(impl.TfFm, 1, 2), impl.TfFm)
+		return [][]impl.Mark{gcr, fm}
+	}
+	numbers := func() [][]int64 {
+		order, _ := impl.Interleave(5, 2)
+		return [][]int64{order, impl.FindPattern(cells, "01")}
+	}
+	runs := func() []impl.CellRun { return impl.SyncRuns(cells) }
+	firstMarks, firstNumbers, firstRuns := marks(), numbers(), runs()
+	wantMarks, wantNumbers, wantRuns := marks(), numbers(), runs()
+	for i := range firstMarks {
+		is(t, "some results", []bool{len(firstMarks[i]) > 0, len(firstNumbers[i]) > 0, len(firstRuns) > 0}, []bool{true, true, true})
+		clear(firstMarks[i][:cap(firstMarks[i])])
+		clear(firstNumbers[i][:cap(firstNumbers[i])])
+	}
+	clear(firstRuns[:cap(firstRuns)])
+	is(t, "later results", []any{marks(), numbers(), runs()}, []any{wantMarks, wantNumbers, wantRuns})
+}
+
+func TestP1NilAndEmptyTracksAreAlike(t *testing.T) {
+	for _, n := range append(formats(), oddNumbers()...) {
+		none, empty := impl.TrackSpec{Format: n, Gap: 2}, impl.TrackSpec{Format: n, Gap: 2, Sectors: []impl.SectorSpec{}}
+		is(t, "results", stage4Tracks(none, empty, nil, "a", n, 1), stage4Tracks(empty, none, []impl.Mark{}, "a", n, 1))
+	}
+}
+
+func TestP1TracksAtTheSameTime(t *testing.T) {
+	var wait sync.WaitGroup
+	got := make([]string, 8)
+	for i := range got {
+		wait.Go(func() {
+			from := source(111)
+			for range 10 {
+				for _, format := range formats() {
+					cells, _ := impl.BuildTrack(from.track(format, 3))
+					list, _ := impl.FindMarks(cells, format)
+					got[i] += cells + brief(list)
+				}
+			}
+		})
+	}
+	wait.Wait()
+	for _, s := range got {
+		is(t, "cells and marks", s == got[0], true)
 	}
 }
