@@ -71,6 +71,19 @@ func within(low, high int64, list ...int64) bool {
 	return true
 }
 
+// areBytes reports whether all numbers of a list are values of a byte.
+func areBytes(list ...int64) bool { return within(0, 1<<byteBits-1, list...) }
+
+// every reports whether all elements of a list pass a test.
+func every[T any](list []T, test func(T) bool) bool {
+	for _, item := range list {
+		if !test(item) {
+			return false
+		}
+	}
+	return true
+}
+
 // CodeName returns the name of an error code.
 func CodeName(code int64) string {
 	if !within(OK, ErrSyntax, code) {

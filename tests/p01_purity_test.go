@@ -576,3 +576,246 @@ func TestP1TracksAtTheSameTime(t *testing.T) {
 		is(t, "cells and marks", s == got[0], true)
 	}
 }
+
+// stage5Tracks returns the results of all functions of chapter 9 that have cells as an argument, and of FoundText and ValidFound.
+func stage5Tracks(s string, list []impl.Mark, f impl.Found, format, n, k int64) []any {
+	m := impl.Mark{Kind: k, At: n, Body: k}
+	if len(list) > 0 {
+		m = list[0]
+	}
+	bytes, whole := impl.RawBytes(format, s)
+	field, right, fieldCode := impl.FieldAt(s, format, m, n)
+	next, isNext := impl.DataMarkOf(s, format, list, k)
+	one, oneCode := impl.ReadSector(s, format, list, k)
+	all, allCode := impl.ReadTrack(s, format)
+	return []any{fieldCode, field, fieldCode, right, isNext, next, oneCode, one, allCode, all, bytes, whole, impl.ValidFound(f), impl.FoundText(f)}
+}
+
+// stage5Sectors returns the results of all functions of chapters 9 and 10 that have lists of sectors as an argument.
+func stage5Sectors(list, other []impl.Found, voted, election []impl.Voted, n, m int64) []any {
+	best, isBest := impl.BestFound(list, n, m, m)
+	specs, specsCode := impl.SpecsOf(list)
+	merged, mergedCode := impl.MergeFound([][]impl.Found{list, other, list})
+	one, oneCode := impl.MergeFound([][]impl.Found{other})
+	texts := []string{}
+	for _, v := range voted {
+		texts = append(texts, impl.VotedText(v), strconv.FormatBool(impl.ValidVoted(v)))
+	}
+	return []any{isBest, best, specsCode, specs, mergedCode, merged, oneCode, one, impl.SameFound(list, other), impl.SameVoted(voted, election), texts}
+}
+
+// stage5Revolutions returns the results of all functions of chapter 10 that have strings as an argument.
+func stage5Revolutions(list []string, format, within int64) []any {
+	most, mostCode := impl.MajorityCells(list)
+	weak, weakCode := impl.WeakCells(list)
+	aligned, alignedCode := impl.AlignRevolutions(list, within)
+	bytes, places, ok := impl.VoteBytes(list)
+	read, readCode := impl.ReadRevolutions(list, format)
+	shift, count, shiftCode := int64(0), int64(0), int64(impl.ErrInvalid)
+	if len(list) > 1 {
+		shift, count, shiftCode = impl.BestShift(list[0], list[1], within)
+	}
+	return []any{mostCode, most, weakCode, weak, alignedCode, aligned, ok, bytes, ok, places, readCode, read, shiftCode, shift, shiftCode, count, impl.ValidRevolutions(list)}
+}
+
+// oddFound are valid and invalid lists of sectors.
+func oddFound() [][]impl.Found {
+	return [][]impl.Found{nil, {}, states(0), states(2), states(1)[:4], {goodSector()}, {goodData("AAAAAAAA"), goodData("AABAAAAA"), badData("xxxxxxxx")}, invalidFound()[:5], invalidFound(), slices.Repeat([]impl.Found{goodSector()}, impl.MaxMarks), make([]impl.Found, impl.MaxMarks+1)}
+}
+
+func oddVoted() [][]impl.Voted {
+	return [][]impl.Voted{nil, {}, elected(0), elected(2), {weakSector()}, invalidVoted(), make([]impl.Voted, 100)}
+}
+
+// oddRevolutions are valid and invalid lists of revolutions.
+func oddRevolutions() [][]string {
+	list := noRevolutions()
+	for _, s := range oddStrings() {
+		list = append(list, []string{s}, []string{s, s}, []string{s, "01", s})
+	}
+	for _, format := range formats() {
+		cells := marked(format, impl.MkId, impl.MkData, impl.MkId)
+		list = append(list, []string{cells, turned(cells, 9), otherCells(cells, 30)}, []string{cells, cells[1:]})
+	}
+	return append(list, []string{"0110", "0011", "0010"}, []string{strings.Repeat("10", 200), strings.Repeat("01", 200)})
+}
+
+func TestP1Sectors(t *testing.T) {
+	numbers, marks, found := oddNumbers(), oddMarks(), invalidFound()
+	list := append(oddStrings(), encoded(impl.TfFm, plainField(impl.TfFm, impl.MkId, "abcd", false)))
+	for _, format := range formats() {
+		cells := marked(format, impl.MkId, impl.MkData, impl.MkId)
+		read, _ := impl.FindMarks(cells, format)
+		list, marks = append(list, cells, turned(cells, 9), strings.Repeat(cells, 30)), append(marks, read)
+	}
+	for i, s := range list {
+		for j, m := range marks {
+			for k, n := range append(formats(), numbers...) {
+				format, index := formats()[(i+k)%3], int64(k%4)
+				if k%5 == 0 {
+					format, index = n, n
+				}
+				f := found[(i+j+k)%len(found)]
+				got := stage5Tracks(s, m, f, format, n, index)
+				if !reflect.DeepEqual(got, stage5Tracks(s, m, f, format, n, index)) {
+					t.Errorf("other results for %.40q, marks %d, %d, %d and %d", s, j, format, n, index)
+				}
+				alone(t, "chapter 9", got[:10]...)
+			}
+		}
+	}
+}
+
+func TestP1ListsOfSectors(t *testing.T) {
+	for i, list := range oddFound() {
+		for j, other := range oddFound() {
+			for k, voted := range oddVoted() {
+				n, m := oddNumbers()[(i+j+k)%len(oddNumbers())], oddNumbers()[(i*j+k)%len(oddNumbers())]
+				got := stage5Sectors(list, other, voted, oddVoted()[(i+j)%len(oddVoted())], n, m)
+				if !reflect.DeepEqual(got, stage5Sectors(list, other, voted, oddVoted()[(i+j)%len(oddVoted())], n, m)) {
+					t.Errorf("other results for lists %d and %d, and %d", i, j, k)
+				}
+				alone(t, "lists", got[:8]...)
+			}
+		}
+	}
+}
+
+func TestP1ManyRevolutions(t *testing.T) {
+	for i, list := range oddRevolutions() {
+		for j, n := range append([]int64{0, 3, 40, 41}, oddNumbers()...) {
+			format := formats()[(i+j)%3]
+			if j%6 == 0 {
+				format = n
+			}
+			if j > 3 && (i+j)%3 > 0 {
+				continue
+			}
+			got := stage5Revolutions(list, format, n)
+			if !reflect.DeepEqual(got, stage5Revolutions(list, format, n)) {
+				t.Errorf("other results for revolutions %d, %d and %d", i, format, n)
+			}
+			alone(t, "chapter 10", got[:16]...)
+		}
+	}
+}
+
+// filled returns a list with room behind it, and all of that room.
+func filled[T any](list []T, extra T) ([]T, []T) {
+	all := append(append([]T{}, list...), extra, extra, extra)
+	return all[:len(list)], all
+}
+
+func TestP1SectorsAreUnchanged(t *testing.T) {
+	extra := impl.Found{Cylinder: 77, Data: "room"}
+	for i, list := range oddFound() {
+		short, all := filled(list, extra)
+		before := slices.Clone(all)
+		for _, voted := range oddVoted() {
+			stage5Sectors(short, short, voted, voted, 3, 1)
+			stage5Sectors(nil, short, voted, nil, 3, 1)
+		}
+		is(t, "sectors "+strconv.Itoa(i), all, before)
+	}
+	for i, list := range oddVoted() {
+		short, all := filled(list, impl.Voted{Cylinder: 77})
+		rooms := [][]int64{}
+		for j := range short {
+			var room []int64
+			short[j].Weak, room = roomyList(short[j].Weak)
+			rooms = append(rooms, room)
+		}
+		stage5Sectors(nil, nil, short, short, 3, 1)
+		want, _ := filled(list, impl.Voted{Cylinder: 77})
+		is(t, "voted "+strconv.Itoa(i), []any{impl.SameVoted(all[:len(list)], want), all[len(list)].Cylinder}, []any{true, int64(77)})
+		for j, room := range rooms {
+			is(t, "weak bytes", room, append(slices.Clone(list[j].Weak), 77, 78, 79, 80))
+		}
+	}
+	for i, list := range oddMarks() {
+		short, all := filled(list, impl.Mark{Kind: 77})
+		before := slices.Clone(all)
+		stage5Tracks(marked(impl.TfMfm, 1, 2), short, goodSector(), impl.TfMfm, 4, 0)
+		is(t, "marks "+strconv.Itoa(i), all, before)
+	}
+	for i, list := range oddRevolutions() {
+		short, all := filled(list, "room")
+		before := slices.Clone(all)
+		stage5Revolutions(short, impl.TfGcr, 9)
+		is(t, "revolutions "+strconv.Itoa(i), all, before)
+	}
+}
+
+func TestP1ResultsOfRevolutionsShareNoMemory(t *testing.T) {
+	list := []string{"0110", "0011", "0010"}
+	sectors := []impl.Found{goodData("AAAAAAAA"), goodData("AABAAAAA"), goodSector()}
+	sectors[2].Number = 9
+	other := badData("xxxxxxxx")
+	other.Number = 5
+	lists := [][]impl.Found{sectors, {other}, {{Cylinder: 3, Head: 1, Number: 5, Data: "xxxxxxyx", State: impl.StBadData}}}
+	before := slices.Clone(sectors)
+	cells := marked(impl.TfMfm, impl.MkId, impl.MkData)
+	results := func() ([][]int64, []string, []impl.Found, []impl.SectorSpec, []impl.Voted, []impl.Voted) {
+		weak, _ := impl.WeakCells(list)
+		_, places, _ := impl.VoteBytes(list)
+		aligned, _ := impl.AlignRevolutions(list, 2)
+		found, _ := impl.ReadTrack(cells, impl.TfMfm)
+		specs, _ := impl.SpecsOf(sectors)
+		merged, _ := impl.MergeFound(lists)
+		read, _ := impl.ReadRevolutions([]string{built(t, sampleTrack())}, impl.TfMfm)
+		numbers := [][]int64{weak, places}
+		for _, v := range merged {
+			numbers = append(numbers, v.Weak)
+		}
+		return numbers, aligned, found, specs, merged, read
+	}
+	a, b, c, d, e, f := results()
+	wantA, wantB, wantC, wantD, wantE, wantF := results()
+	is(t, "some results", []int{len(a), len(a[0]), len(a[1]), len(a[2]), len(b), len(c), len(d), len(e), len(f)}, []int{5, 2, 2, 1, 3, 1, 3, 3, 2})
+	for _, numbers := range a {
+		clear(numbers[:cap(numbers)])
+	}
+	is(t, "weak bytes of other sectors", [][]int64{wantE[0].Weak, wantE[1].Weak}, [][]int64{{2}, {6}})
+	clear(b[:cap(b)])
+	clear(c[:cap(c)])
+	clear(d[:cap(d)])
+	clear(e[:cap(e)])
+	clear(f[:cap(f)])
+	is(t, "arguments", sectors, before)
+	againA, againB, againC, againD, againE, againF := results()
+	is(t, "later results", []any{againA, againB, againC, againD, againE, againF}, []any{wantA, wantB, wantC, wantD, wantE, wantF})
+}
+
+func TestP1NilAndEmptySectorsAreAlike(t *testing.T) {
+	is(t, "sectors", stage5Sectors(nil, nil, nil, nil, 0, 0), stage5Sectors([]impl.Found{}, []impl.Found{}, []impl.Voted{}, []impl.Voted{}, 0, 0))
+	is(t, "revolutions", stage5Revolutions(nil, impl.TfFm, 0), stage5Revolutions([]string{}, impl.TfFm, 0))
+	is(t, "marks", stage5Tracks("0110", nil, goodSector(), impl.TfFm, 0, 0), stage5Tracks("0110", []impl.Mark{}, goodSector(), impl.TfFm, 0, 0))
+	none, empty := impl.Voted{Data: "ABCDEFGH", State: impl.StGood, Votes: 1}, impl.Voted{Data: "ABCDEFGH", State: impl.StGood, Votes: 1, Weak: []int64{}}
+	is(t, "weak bytes", []any{impl.ValidVoted(none), impl.VotedText(none)}, []any{impl.ValidVoted(empty), impl.VotedText(empty)})
+	merged, c := impl.MergeFound([][]impl.Found{nil, {goodSector()}})
+	again, d := impl.MergeFound([][]impl.Found{{}, {goodSector()}})
+	is(t, "lists", []any{merged, c}, []any{again, d})
+}
+
+func TestP1RevolutionsAtTheSameTime(t *testing.T) {
+	var wait sync.WaitGroup
+	got := make([]string, 8)
+	for i := range got {
+		wait.Go(func() {
+			from := source(150)
+			for range 10 {
+				for _, format := range formats() {
+					cells, _ := impl.BuildTrack(from.track(format, 3))
+					list, _ := impl.ReadRevolutions([]string{cells, otherCells(cells, 99), turned(cells, 50)}, format)
+					for _, v := range list {
+						got[i] += impl.VotedText(v)
+					}
+				}
+			}
+		})
+	}
+	wait.Wait()
+	for _, s := range got {
+		is(t, "sectors", s == got[0] && s != "", true)
+	}
+}
