@@ -30,9 +30,10 @@ const (
 	CrcFactor = 4129
 )
 
-// byteBits is the number of bits of a byte, and maxWord the greatest number that two bytes hold.
+// byteBits is the number of bits of a byte, maxByte the greatest number that it holds, and maxWord that of two bytes.
 const (
 	byteBits = 8
+	maxByte  = 1<<byteBits - 1
 	maxWord  = 65535
 )
 
@@ -72,7 +73,7 @@ func within(low, high int64, list ...int64) bool {
 }
 
 // areBytes reports whether all numbers of a list are values of a byte.
-func areBytes(list ...int64) bool { return within(0, 1<<byteBits-1, list...) }
+func areBytes(list ...int64) bool { return within(0, maxByte, list...) }
 
 // every reports whether all elements of a list pass a test.
 func every[T any](list []T, test func(T) bool) bool {

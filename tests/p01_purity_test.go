@@ -819,3 +819,264 @@ func TestP1RevolutionsAtTheSameTime(t *testing.T) {
 		is(t, "sectors", s == got[0] && s != "", true)
 	}
 }
+
+// stage6Features returns the results of all functions of chapter 11.
+func stage6Features(list []impl.Found, voted []impl.Voted, spec impl.TrackSpec, f impl.Feature, s string, numbers [4]int64) []any {
+	format, cylinder, head, nominal := numbers[0], numbers[1], numbers[2], numbers[3]
+	read, isRead := impl.ReadFeature(s)
+	found, foundCode := impl.SectorFeatures(list, cylinder, head)
+	long, isLong := impl.LongFeature(s, nominal)
+	weak, weakCode := impl.WeakFeatures(voted)
+	all, allCode := impl.TrackFeatures(s, format, cylinder, head, nominal)
+	more, moreCode := impl.ProtectTrack(spec, f)
+	plain, plainCode := impl.PlainTrack(spec, cylinder, head)
+	described, describedCode := impl.SpecFeatures(spec, cylinder, head)
+	return []any{isRead, read, foundCode, found, isLong, long, weakCode, weak, allCode, all, moreCode, more, plainCode, plain, describedCode, described, impl.ValidFeature(f), impl.FeatureText(f)}
+}
+
+// stage6Discs returns the results of all functions of chapter 12.
+func stage6Discs(d, e impl.Disc, list []impl.Found, s impl.Sector, numbers [4]int64) []any {
+	a, b, m, n := numbers[0], numbers[1], numbers[2], numbers[3]
+	empty, emptyCode := impl.NewDisc(a, b, m, n)
+	one, oneCode := impl.SectorAt(d, a, b, m)
+	put, putCode := impl.PutSector(d, a, s)
+	spec, specCode := impl.TrackOf(d, b)
+	filled, filledCode := impl.FillTrack(d, b, list)
+	changed, changedCode := impl.ChangedSectors(d, e)
+	made, madeCode := impl.DiscOfData(a, b, m, n, s.Data)
+	return []any{emptyCode, empty, oneCode, one, putCode, put, specCode, spec, filledCode, filled, changedCode, changed, madeCode, made, impl.ValidDisc(d), impl.SameDisc(d, e), impl.SectorBytes(n), impl.StatesOf(d), impl.DataOf(d)}
+}
+
+// oddDiscs are some valid discs, and some invalid ones.
+func oddDiscs() []impl.Disc {
+	from := source(200)
+	list := []impl.Disc{sampleDisc(), from.disc(1, 1, 1, 0), from.disc(8, 2, 8, 2), from.disc(2, 1, 3, 1)}
+	for i, d := range invalidDiscs() {
+		if i%7 == 0 {
+			list = append(list, d)
+		}
+	}
+	return list
+}
+
+// oddFeatures are some valid features, and some invalid ones.
+func oddFeatures() []impl.Feature {
+	list := []impl.Feature{{Kind: 1, Sector: 2}, {Kind: 1, Sector: 3}, {Kind: 2}, {Kind: 3, Sector: 1}, {Kind: 4}, {Kind: 5}, {Kind: 6}, {Kind: 7, Value: 2}, {Kind: 8, Value: 2}, {Kind: 8, Value: 30}}
+	for i, f := range edgeFeatures() {
+		if i%97 == 0 {
+			list = append(list, f)
+		}
+	}
+	return list
+}
+
+// oddQuadruples are numbers that few functions accept, and some that most do.
+func oddQuadruples() [][4]int64 {
+	list := [][4]int64{{impl.TfMfm, 3, 1, 500}, {impl.TfGcr, 0, 0, 1}, {impl.TfFm, 255, 255, 8000}, {1, 1, 1, 0}, {8, 2, 8, 2}, {2, 1, 3, 1}, {0, 0, 0, 0}}
+	numbers := oddNumbers()
+	for i := range numbers {
+		list = append(list, [4]int64{numbers[i], numbers[(i+7)%len(numbers)], numbers[(i+11)%len(numbers)], numbers[(i+18)%len(numbers)]})
+	}
+	return list
+}
+
+// noMore requires what alone does, also of structures.
+func noMore(t *testing.T, what string, pairs ...any) {
+	t.Helper()
+	for i := 0; i < len(pairs); i += 2 {
+		spec, isSpec := pairs[i+1].(impl.TrackSpec)
+		d, isDisc := pairs[i+1].(impl.Disc)
+		switch failed := pairs[i] != true && pairs[i] != int64(impl.OK); {
+		case isSpec:
+			is(t, what, failed && !impl.SameTrackSpec(spec, impl.TrackSpec{}), false)
+		case isDisc:
+			is(t, what, failed && !impl.SameDisc(d, impl.Disc{}), false)
+		default:
+			alone(t, what, pairs[i:i+2]...)
+		}
+	}
+}
+
+func TestP1Features(t *testing.T) {
+	tracks, found, voted, features, numbers := oddTracks(), oddFound(), oddVoted(), oddFeatures(), oddQuadruples()
+	texts := append(oddStrings(), "duplicate 2 0", "long 5", "weak 0 1", "weak 0 01", marked(impl.TfFm, 1, 2), marked(impl.TfMfm, 1, 1, 3), marked(impl.TfGcr, 1), strings.Repeat(marked(impl.TfGcr, 1), impl.MaxMarks+1))
+	for i, s := range texts {
+		for j := range tracks {
+			for k := range numbers {
+				if (i+j+k)%9 > 0 {
+					continue
+				}
+				results := func() []any {
+					return stage6Features(found[(i+j)%len(found)], voted[(i+k)%len(voted)], tracks[j], features[(i+j+k)%len(features)], s, numbers[k])
+				}
+				got := results()
+				if !reflect.DeepEqual(got, results()) {
+					t.Errorf("other results for %.40q, track %d and %v", s, j, numbers[k])
+				}
+				noMore(t, "chapter 11", got[:16]...)
+			}
+		}
+	}
+}
+
+func TestP1Discs(t *testing.T) {
+	discs, found, numbers := oddDiscs(), oddFound(), oddQuadruples()
+	sectors := append(invalidSector(0), held(0, impl.SsGood, "ABCDEFGH"), held(1, impl.SsBad, strings.Repeat("x", 16)), held(2, impl.SsMissing, ""))
+	for i, d := range discs {
+		for j := range numbers {
+			for k := range sectors {
+				if (i+j+k)%5 > 0 {
+					continue
+				}
+				e := discs[(i+k)%len(discs)]
+				results := func() []any { return stage6Discs(d, e, found[(j+k)%len(found)], sectors[k], numbers[j]) }
+				got := results()
+				if !reflect.DeepEqual(got, results()) {
+					t.Errorf("other results for discs %d and %d, sector %d and %v", i, (i+k)%len(discs), k, numbers[j])
+				}
+				noMore(t, "chapter 12", got[:14]...)
+			}
+		}
+	}
+}
+
+func TestP1ProtectedTracksAreUnchanged(t *testing.T) {
+	extra := impl.SectorSpec{Cylinder: 77, Data: "room"}
+	for i, spec := range oddTracks() {
+		short, all := filled(spec.Sectors, extra)
+		full := impl.TrackSpec{Format: spec.Format, Gap: spec.Gap, Sectors: short}
+		before := slices.Clone(all)
+		for _, f := range oddFeatures() {
+			stage6Features(nil, nil, full, f, "", [4]int64{impl.TfFm, 3, 1, 9})
+			impl.ProtectTrack(full, impl.Feature{Kind: impl.FtDuplicate, Sector: int64(len(short))})
+		}
+		is(t, "sectors of track "+strconv.Itoa(i), all, before)
+	}
+	for i, list := range oddFound() {
+		short, all := filled(list, impl.Found{Cylinder: 77, Data: "room"})
+		before := slices.Clone(all)
+		stage6Features(short, nil, sampleTrack(), impl.Feature{}, "", [4]int64{impl.TfFm, 3, 1, 9})
+		is(t, "sectors "+strconv.Itoa(i), all, before)
+	}
+	for i, list := range oddVoted() {
+		short, all := filled(list, impl.Voted{Cylinder: 77})
+		before := slices.Clone(all)
+		stage6Features(nil, short, sampleTrack(), impl.Feature{}, "", [4]int64{})
+		is(t, "voted "+strconv.Itoa(i), all, before)
+	}
+}
+
+func TestP1DiscsAreUnchanged(t *testing.T) {
+	for i, d := range oddDiscs() {
+		short, all := filled(d.Sectors, impl.Sector{Data: "room", State: 77})
+		before := slices.Clone(all)
+		full := impl.Disc{Cylinders: d.Cylinders, Heads: d.Heads, PerTrack: d.PerTrack, Size: d.Size, Sectors: short}
+		for _, list := range append(oddFound(), []impl.Found{{Number: 1, Data: "ABCDEFGH", State: impl.StGood}, {Number: 2, Data: "ABCDEFGH", State: impl.StBadData}}) {
+			found, room := filled(list, impl.Found{Cylinder: 77})
+			beforeRoom := slices.Clone(room)
+			for _, n := range []int64{0, 1, 23, -1} {
+				stage6Discs(full, full, found, held(0, impl.SsWeak, "12345678"), [4]int64{n, 0, 0, 0})
+			}
+			is(t, "found", room, beforeRoom)
+		}
+		is(t, "sectors of disc "+strconv.Itoa(i), all, before)
+	}
+}
+
+func TestP1ResultsOfDiscsShareNoMemory(t *testing.T) {
+	spec, d := sampleTrack(), sampleDisc()
+	before, beforeDisc := sampleTrack(), sampleDisc()
+	tracks := func() [][]impl.SectorSpec {
+		more, _ := impl.ProtectTrack(spec, impl.Feature{Kind: impl.FtDuplicate, Sector: 2})
+		bad, _ := impl.ProtectTrack(spec, impl.Feature{Kind: impl.FtBadId, Sector: 1})
+		long, _ := impl.ProtectTrack(spec, impl.Feature{Kind: impl.FtLong, Value: 1})
+		plain, _ := impl.PlainTrack(spec, 3, 1)
+		track, _ := impl.TrackOf(d, 1)
+		return [][]impl.SectorSpec{more.Sectors, bad.Sectors, long.Sectors, plain.Sectors, track.Sectors}
+	}
+	discs := func() [][]impl.Sector {
+		empty, _ := impl.NewDisc(1, 2, 3, 0)
+		put, _ := impl.PutSector(d, 0, d.Sectors[0])
+		other, _ := impl.PutSector(d, 23, held(0, impl.SsGood, "ABCDEFGH"))
+		still, _ := impl.FillTrack(d, 0, nil)
+		filled, _ := impl.FillTrack(d, 0, []impl.Found{{Number: 2, Data: "ABCDEFGH", State: impl.StGood}})
+		made, _ := impl.DiscOfData(1, 1, 2, 0, "ABCDEFGHIJKLMNOP")
+		return [][]impl.Sector{empty.Sectors, put.Sectors, other.Sectors, still.Sectors, filled.Sectors, made.Sectors}
+	}
+	features := func() [][]impl.Feature {
+		list := []impl.Found{read(1, impl.StGood), read(1, impl.StBadData)}
+		sectors, _ := impl.SectorFeatures(list, 3, 0)
+		weak, _ := impl.WeakFeatures(elected(0))
+		track, _ := impl.TrackFeatures(built(t, spec), spec.Format, 3, 0, 1)
+		described, _ := impl.SpecFeatures(spec, 3, 0)
+		return [][]impl.Feature{sectors, weak, track, described}
+	}
+	numbers := func() [][]int64 {
+		e, _ := impl.PutSector(d, 5, held(0, impl.SsGood, "ABCDEFGH"))
+		changed, _ := impl.ChangedSectors(d, e)
+		return [][]int64{impl.StatesOf(d), changed}
+	}
+	wantTracks, wantDiscs, wantFeatures, wantNumbers := tracks(), discs(), features(), numbers()
+	spoil(t, tracks())
+	spoil(t, discs())
+	spoil(t, features())
+	spoil(t, numbers())
+	is(t, "arguments", []any{spec, d}, []any{before, beforeDisc})
+	is(t, "later results", []any{tracks(), discs(), features(), numbers()}, []any{wantTracks, wantDiscs, wantFeatures, wantNumbers})
+}
+
+// spoil clears lists, of which none may be empty, together with their room, and one must not clear another one.
+func spoil[T any](t *testing.T, lists [][]T) {
+	t.Helper()
+	for i, list := range lists {
+		is(t, "some results", len(list) > 0, true)
+		later := []T{}
+		for _, other := range lists[i+1:] {
+			later = append(later, other...)
+		}
+		clear(list[:cap(list)])
+		after := []T{}
+		for _, other := range lists[i+1:] {
+			after = append(after, other...)
+		}
+		is(t, "lists behind it", after, later)
+	}
+}
+
+func TestP1NilAndEmptyDiscsAreAlike(t *testing.T) {
+	for _, n := range append(formats(), oddNumbers()...) {
+		numbers := [4]int64{n, 1, 1, 1}
+		none, empty := impl.TrackSpec{Format: n, Gap: 2}, impl.TrackSpec{Format: n, Gap: 2, Sectors: []impl.SectorSpec{}}
+		is(t, "features", stage6Features(nil, nil, none, impl.Feature{Kind: 8, Value: 2}, "0110", numbers), stage6Features([]impl.Found{}, []impl.Voted{}, empty, impl.Feature{Kind: 8, Value: 2}, "0110", numbers))
+		a, b := impl.Disc{Cylinders: 1, Heads: 1, PerTrack: 1}, impl.Disc{Cylinders: 1, Heads: 1, PerTrack: 1, Sectors: []impl.Sector{}}
+		is(t, "discs", stage6Discs(a, b, nil, impl.Sector{}, numbers), stage6Discs(b, a, []impl.Found{}, impl.Sector{}, numbers))
+	}
+	got, c := impl.FillTrack(sampleDisc(), 0, []impl.Found{})
+	discIs(t, "nothing is found", got, c, sampleDisc())
+}
+
+func TestP1DiscsAtTheSameTime(t *testing.T) {
+	var wait sync.WaitGroup
+	got := make([]string, 8)
+	for i := range got {
+		wait.Go(func() {
+			from := source(201)
+			for range 10 {
+				d := from.disc(1, 2, 8, 2)
+				spec, _ := impl.TrackOf(d, 1)
+				cells, _ := impl.BuildTrack(spec)
+				features, _ := impl.TrackFeatures(cells, impl.TfMfm, 0, 0, 100)
+				for _, f := range features {
+					got[i] += impl.FeatureText(f)
+				}
+				list, _ := impl.ReadTrack(cells, impl.TfMfm)
+				filled, _ := impl.FillTrack(d, 1, list)
+				got[i] += impl.DataOf(filled)
+			}
+		})
+	}
+	wait.Wait()
+	for _, s := range got {
+		is(t, "features and data", s == got[0] && s != "", true)
+	}
+}
