@@ -1080,3 +1080,223 @@ func TestP1DiscsAtTheSameTime(t *testing.T) {
 		is(t, "features and data", s == got[0] && s != "", true)
 	}
 }
+
+// stage7Containers returns the results of all functions of chapter 13.
+func stage7Containers(s string, c impl.Chunk, x, y impl.Image, track int64) []any {
+	image, imageCode := impl.DecodeImage(s)
+	longer, longerCode := impl.AppendTrack(s, x.Disc, track)
+	compact, compactCode := impl.CompactContainer(s)
+	saved, skipped, savedCode := impl.SalvageImage(s)
+	chunks, count := impl.DecodeChunks(s)
+	return []any{imageCode, image, longerCode, longer, compactCode, compact, savedCode, saved, savedCode, skipped, impl.ValidChunk(c), impl.EncodeChunk(c), chunks, count, impl.ValidImage(x), impl.SameImage(x, y), impl.EncodeImage(x)}
+}
+
+// stage7Packing returns the results of all functions of chapter 14.
+func stage7Packing(s, other string, list []impl.Delta, gaps []int64) []any {
+	runs, isRuns := impl.PackRuns(s)
+	unruns, isUnruns := impl.UnpackRuns(s)
+	packed, isPacked := impl.PackBytes(s)
+	unpacked, isUnpacked := impl.UnpackBytes(s)
+	deltas, isDeltas := impl.DeltasOf(s, other)
+	applied, isApplied := impl.ApplyDeltas(s, list)
+	short, isShort := impl.PackGaps(gaps)
+	long, isLong := impl.UnpackGaps(s)
+	return []any{isRuns, runs, isUnruns, unruns, isPacked, packed, isUnpacked, unpacked, isDeltas, deltas, isApplied, applied, isShort, short, isLong, long}
+}
+
+// oddContainers are containers, well-formed and not, and other strings.
+func oddContainers() []string {
+	from := source(250)
+	list := plainContainer(sampleImage())
+	s := joined(list...)
+	out := append(oddStrings(), s, s[:len(s)-1], s[1:], s+s, joined(list[1:]...), joined(list[:len(list)-1]...), joined(list[2], list[1], list[0]), containerOf(8192), containerOf(8193), strings.Repeat(list[0], 50), chunkBytes(3, strings.Repeat("x", 8192)), chunkBytes(3, strings.Repeat("x", 8193)), strings.Repeat("\x01\x04", 1024))
+	for range 10 {
+		out = append(out, joined(plainContainer(from.image())...), from.bytes(40), "\x01"+from.bytes(40))
+	}
+	return out
+}
+
+// oddImages are some valid images, and some invalid ones.
+func oddImages() []impl.Image {
+	list := []impl.Image{{}, sampleImage(), {Disc: sampleDisc(), Notes: []string{""}}, {Notes: []string{"a"}}}
+	for i, x := range noImages() {
+		if i%29 == 0 {
+			list = append(list, x)
+		}
+	}
+	return list
+}
+
+func oddChunks() []impl.Chunk {
+	var list []impl.Chunk
+	for _, kind := range append(oddNumbers(), 3, 5) {
+		list = append(list, impl.Chunk{Kind: kind}, impl.Chunk{Kind: kind, Data: "data"})
+	}
+	return append(list, impl.Chunk{Kind: 2, Data: strings.Repeat("x", 8192)}, impl.Chunk{Kind: 2, Data: strings.Repeat("x", 8193)}, impl.Chunk{Kind: 4, Data: strings.Repeat("x", 70000)})
+}
+
+// oddDeltas are lists of which some fit some strings.
+func oddDeltas() [][]impl.Delta {
+	list := [][]impl.Delta{nil, {}, {{At: 0, Data: "x"}}, {{At: 1, Data: "xy"}, {At: 3, Data: "z"}}, {{At: 3, Data: "z"}, {At: 1, Data: "xy"}}, {{}}, {{Data: strings.Repeat("x", 5000)}}}
+	for _, n := range oddNumbers() {
+		list = append(list, []impl.Delta{{At: n, Data: "x"}}, []impl.Delta{{At: 0, Data: "x"}, {At: n, Data: "x"}}, []impl.Delta{{At: n}})
+	}
+	return list
+}
+
+// oddPacked are strings that are packed in some way, and others.
+func oddPacked() []string {
+	from := source(251)
+	plain := from.lumpy(300, 4)
+	return append(oddStrings(), plain, plainRuns(plain), plainPacked(plain), plainGaps([]int64{5, 2000000, 1}), "\x80\x01", "\x00a\xff\x01", "\x00a\xff\x02", "\x7d", "\x7e\x00", "\x02\x00\x00", "\x80\x00", strings.Repeat("\x00b", 4096), strings.Repeat("\x00b", 4096)+"\x00", strings.Repeat("\x80", 9000), "\x02"+strings.Repeat("\x00", 3999), "\x02"+strings.Repeat("\x00", 4000), from.bytes(4096), from.bytes(4097))
+}
+
+func TestP1Containers(t *testing.T) {
+	chunks, images := oddChunks(), oddImages()
+	tracks := append(oddNumbers(), 3, 15, 16)
+	for i, s := range oddContainers() {
+		for j, x := range images {
+			for k, track := range tracks {
+				if (i+j+k)%19 > 0 {
+					continue
+				}
+				c, y := chunks[(i+j+2*k)%len(chunks)], images[(i+k)%len(images)]
+				got := stage7Containers(s, c, x, y, track)
+				if !reflect.DeepEqual(got, stage7Containers(s, c, x, y, track)) {
+					t.Errorf("other results for container %d, image %d, track %d", i, j, track)
+				}
+				alone(t, "chapter 13", got[:12]...)
+			}
+		}
+	}
+}
+
+func TestP1Packing(t *testing.T) {
+	list, deltas := oddPacked(), oddDeltas()
+	gaps := append(oddLists(), []int64{1, 2000000, 1}, []int64{0}, []int64{2000001}, ones(4000, 1), ones(4001, 1))
+	for i, s := range list {
+		for j := range deltas {
+			for k := range gaps {
+				if (i+j+k)%19 > 0 {
+					continue
+				}
+				other := list[(i+j)%len(list)]
+				got := stage7Packing(s, other, deltas[j], gaps[k])
+				if !reflect.DeepEqual(got, stage7Packing(s, other, deltas[j], gaps[k])) {
+					t.Errorf("other results for string %d, list %d, gaps %d", i, j, k)
+				}
+				alone(t, "chapter 14", got...)
+			}
+		}
+	}
+}
+
+func TestP1ImagesAreUnchanged(t *testing.T) {
+	s := joined(plainContainer(sampleImage())...)
+	for i, x := range oddImages() {
+		sectors, allSectors := filled(x.Disc.Sectors, impl.Sector{Data: "room", State: 77})
+		notes, allNotes := filled(x.Notes, "room")
+		beforeSectors, beforeNotes := slices.Clone(allSectors), slices.Clone(allNotes)
+		full := impl.Image{Disc: x.Disc, Notes: notes}
+		full.Disc.Sectors = sectors
+		for track := range int64(5) {
+			stage7Containers(s, impl.Chunk{}, full, full, track)
+		}
+		is(t, "sectors of image "+strconv.Itoa(i), allSectors, beforeSectors)
+		is(t, "notes of image "+strconv.Itoa(i), allNotes, beforeNotes)
+	}
+}
+
+func TestP1ListsToPackAreUnchanged(t *testing.T) {
+	for i, list := range oddDeltas() {
+		short, all := filled(list, impl.Delta{At: 77, Data: "room"})
+		before := slices.Clone(all)
+		for _, s := range []string{"", "abcdef", strings.Repeat("a", 4096)} {
+			stage7Packing(s, s, short, nil)
+		}
+		is(t, "deltas "+strconv.Itoa(i), all, before)
+	}
+	for i, gaps := range append(oddLists(), ones(4000, 1), ones(4001, 1)) {
+		short, all := roomyList(gaps)
+		before := slices.Clone(all)
+		stage7Packing("", "", nil, short)
+		is(t, "gaps "+strconv.Itoa(i), all, before)
+	}
+}
+
+func TestP1ResultsOfContainersShareNoMemory(t *testing.T) {
+	x := sampleImage()
+	s := impl.EncodeImage(x)
+	chunks := func() [][]impl.Chunk {
+		list, _ := impl.DecodeChunks(s)
+		part, _ := impl.DecodeChunks(s[:len(s)-1])
+		return [][]impl.Chunk{list, part}
+	}
+	images := func() []impl.Image {
+		image, _ := impl.DecodeImage(s)
+		saved, _, _ := impl.SalvageImage(s[:len(s)-2])
+		return []impl.Image{image, saved}
+	}
+	sectors := func() [][]impl.Sector {
+		list := images()
+		return [][]impl.Sector{list[0].Disc.Sectors, list[1].Disc.Sectors}
+	}
+	notes := func() [][]string {
+		list := images()
+		return [][]string{list[0].Notes, list[1].Notes}
+	}
+	others := func() ([][]impl.Delta, [][]int64) {
+		a, _ := impl.DeltasOf("abcdef", "aXYdeZ")
+		b, _ := impl.DeltasOf("abcdef", "aXYdeZ")
+		gaps, _ := impl.UnpackGaps("\xc8\x01\x03\x94\x03")
+		same, _ := impl.UnpackGaps("\xc8\x01\x03\x94\x03")
+		return [][]impl.Delta{a, b}, [][]int64{gaps, same}
+	}
+	wantChunks, wantSectors, wantNotes := chunks(), sectors(), notes()
+	wantDeltas, wantGaps := others()
+	spoil(t, chunks())
+	spoil(t, sectors())
+	spoil(t, notes())
+	deltas, gaps := others()
+	spoil(t, deltas)
+	spoil(t, gaps)
+	is(t, "arguments", x, sampleImage())
+	deltas, gaps = others()
+	is(t, "later results", []any{chunks(), sectors(), notes(), deltas, gaps}, []any{wantChunks, wantSectors, wantNotes, wantDeltas, wantGaps})
+}
+
+func TestP1NilAndEmptyImagesAreAlike(t *testing.T) {
+	for _, d := range []impl.Disc{sampleDisc(), {}, {Cylinders: 1, Heads: 1, PerTrack: 1, Sectors: []impl.Sector{}}} {
+		none, empty := impl.Image{Disc: d}, impl.Image{Disc: copied(d), Notes: []string{}}
+		for _, s := range oddContainers()[:40] {
+			is(t, "images", stage7Containers(s, impl.Chunk{}, none, empty, 0), stage7Containers(s, impl.Chunk{}, empty, none, 0))
+		}
+	}
+	for _, s := range oddPacked() {
+		is(t, "lists", stage7Packing(s, "", nil, nil), stage7Packing(s, "", []impl.Delta{}, []int64{}))
+	}
+}
+
+func TestP1ContainersAtTheSameTime(t *testing.T) {
+	var wait sync.WaitGroup
+	got := make([]string, 8)
+	for i := range got {
+		wait.Go(func() {
+			from := source(252)
+			for range 20 {
+				x := from.image()
+				s := impl.EncodeImage(x)
+				back, _, _ := impl.SalvageImage(s[:len(s)-3] + from.bytes(300))
+				longer, _ := impl.AppendTrack(s, back.Disc, 0)
+				packed, _ := impl.PackRuns(from.lumpy(500, 3))
+				plain, _ := impl.UnpackRuns(packed + from.bytes(1))
+				gaps, _ := impl.UnpackGaps(from.bytes(3))
+				got[i] += longer + plain + strconv.Itoa(len(gaps)) + impl.EncodeChunk(impl.Chunk{Kind: 3, Data: from.bytes(5000)})
+			}
+		})
+	}
+	wait.Wait()
+	for _, s := range got {
+		is(t, "containers", s == got[0] && s != "", true)
+	}
+}
