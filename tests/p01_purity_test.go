@@ -886,7 +886,10 @@ func noMore(t *testing.T, what string, pairs ...any) {
 	for i := 0; i < len(pairs); i += 2 {
 		spec, isSpec := pairs[i+1].(impl.TrackSpec)
 		d, isDisc := pairs[i+1].(impl.Disc)
+		x, isDevice := pairs[i+1].(impl.Device)
 		switch failed := pairs[i] != true && pairs[i] != int64(impl.OK); {
+		case isDevice:
+			is(t, what, failed && !isNothing(x), false)
 		case isSpec:
 			is(t, what, failed && !impl.SameTrackSpec(spec, impl.TrackSpec{}), false)
 		case isDisc:
@@ -1298,5 +1301,166 @@ func TestP1ContainersAtTheSameTime(t *testing.T) {
 	wait.Wait()
 	for _, s := range got {
 		is(t, "containers", s == got[0] && s != "", true)
+	}
+}
+
+// stage8Devices returns the results of all functions of chapter 15 that have a device as an argument, or make one of its disc.
+func stage8Devices(d, other impl.Device, n, m int64, data string, list []string) []any {
+	made, madeCode := impl.NewDevice(d.Disc, n, m)
+	sector, sectorCode := impl.SectorOf(d, n)
+	read, readCode := impl.ReadDeviceBlock(d, n)
+	written, writtenCode := impl.WriteDeviceBlock(d, n, data)
+	moved, movedCode := impl.ReplaceBlock(d, n)
+	all, lost, allCode := impl.AllBlocks(d)
+	stored, storedCode := impl.StoreBlocks(d, list)
+	return []any{madeCode, made, sectorCode, sector, readCode, read, writtenCode, written, movedCode, moved, allCode, all, allCode, lost, storedCode, stored, impl.ValidDevice(d), impl.SameDevice(d, other), impl.DeviceBlocks(d)}
+}
+
+// oddDevices are some valid devices, and some invalid ones.
+func oddDevices() []impl.Device {
+	from := source(290)
+	list := []impl.Device{sampleDevice(), statesDevice(), from.device(from.disc(1, 1, 1, 0), 7, 0), from.device(from.disc(8, 2, 8, 2), 3, 0), from.device(from.disc(8, 2, 8, 2), 3, 127), from.device(from.disc(2, 1, 3, 1), 1, 2)}
+	for i, d := range invalidDevices() {
+		if i%23 == 0 {
+			list = append(list, d)
+		}
+	}
+	const most = math.MaxInt64
+	list = append(list, impl.Device{Disc: sampleDisc(), Skew: most, Spare: math.MinInt64, Map: []int64{most, math.MinInt64}}, impl.Device{Disc: impl.Disc{Cylinders: most, Heads: most, PerTrack: most, Size: most}, Skew: most, Spare: most, Map: upTo(9)}, impl.Device{Disc: impl.Disc{Cylinders: 1, Heads: 1}, Map: upTo(1)})
+	return append(list, impl.Device{Disc: sampleDisc(), Map: make([]int64, 100000)})
+}
+
+// oddFiles are some valid lists of files, and some invalid ones.
+func oddFiles() [][]impl.File {
+	return [][]impl.File{nil, {}, manyFiles(16), manyFiles(17), named("A", "A"), named("B", "A"), named(oddStrings()...), make([]impl.File, 100000), {{Name: "A", Data: strings.Repeat("x", 1<<16)}}}
+}
+
+func TestP1Devices(t *testing.T) {
+	devices, from := oddDevices(), source(291)
+	texts := append(oddStrings(), "ABCDEFGH", strings.Repeat("x", 16), strings.Repeat("x", 32))
+	numbers := append(oddNumbers(), 3, 18, 19, 23, 24, 127, 128)
+	for i, d := range devices {
+		lists := [][]string{nil, {}, texts, from.blocks(sampleDevice()), from.blocks(statesDevice()), slices.Repeat([]string{strings.Repeat("x", 32)}, 128), make([]string, 100000)}
+		for j, n := range numbers {
+			for k, data := range texts {
+				if (i+j+k)%9 > 0 {
+					continue
+				}
+				other, m, list := devices[(i+k)%len(devices)], numbers[(j+k)%len(numbers)], lists[(j+k)%len(lists)]
+				got := stage8Devices(d, other, n, m, data, list)
+				if !reflect.DeepEqual(got, stage8Devices(d, other, n, m, data, list)) {
+					t.Errorf("other results for device %d, %d, %d, and text %d", i, n, m, k)
+				}
+				noMore(t, "chapter 15", got[:16]...)
+			}
+		}
+	}
+	for i, list := range oddFiles() {
+		is(t, "files "+strconv.Itoa(i), impl.ValidFiles(list), impl.ValidFiles(list))
+	}
+}
+
+// The blocks of each length are written, so that all functions change their results.
+func TestP1DevicesAreUnchanged(t *testing.T) {
+	for i, d := range oddDevices() {
+		sectors, allSectors := filled(d.Disc.Sectors, impl.Sector{Data: "room", State: 77})
+		blocks, allBlocks := roomyList(d.Map)
+		list, allTexts := filled(slices.Repeat([]string{strings.Repeat("x", 8)}, len(d.Map)), "room")
+		beforeSectors, beforeBlocks, beforeTexts := slices.Clone(allSectors), slices.Clone(allBlocks), slices.Clone(allTexts)
+		full := impl.Device{Disc: d.Disc, Skew: d.Skew, Spare: d.Spare, Map: blocks}
+		full.Disc.Sectors = sectors
+		for _, n := range []int64{0, 1, 3, 18, -1} {
+			for _, count := range []int{8, 16, 32, 5} {
+				for j := range list {
+					list[j], beforeTexts[j] = strings.Repeat("x", count), strings.Repeat("x", count)
+				}
+				stage8Devices(full, full, n, 1, strings.Repeat("x", count), list)
+			}
+		}
+		is(t, "sectors of device "+strconv.Itoa(i), allSectors, beforeSectors)
+		is(t, "blocks of device "+strconv.Itoa(i), allBlocks, beforeBlocks)
+		is(t, "contents of device "+strconv.Itoa(i), allTexts, beforeTexts)
+	}
+	for i, list := range oddFiles() {
+		short, all := filled(list, impl.File{Name: "ROOM"})
+		before := slices.Clone(all)
+		impl.ValidFiles(short)
+		is(t, "files "+strconv.Itoa(i), all, before)
+	}
+}
+
+func TestP1ResultsOfDevicesShareNoMemory(t *testing.T) {
+	d, texts := statesDevice(), []string{"00000000", "11111111", "22222222", "33333333"}
+	devices := func() []impl.Device {
+		made, _ := impl.NewDevice(d.Disc, 0, 0)
+		spared, _ := impl.NewDevice(d.Disc, 1, 4)
+		written, _ := impl.WriteDeviceBlock(d, 0, "ABCDEFGH")
+		same, _ := impl.WriteDeviceBlock(d, 0, "AAAAAAAA")
+		moved, _ := impl.ReplaceBlock(d, 0)
+		stored, _ := impl.StoreBlocks(d, texts)
+		return []impl.Device{made, spared, written, same, moved, stored}
+	}
+	sectors := func() [][]impl.Sector {
+		var lists [][]impl.Sector
+		for _, x := range devices() {
+			lists = append(lists, x.Disc.Sectors)
+		}
+		return lists
+	}
+	maps := func() [][]int64 {
+		var lists [][]int64
+		for _, x := range devices() {
+			lists = append(lists, x.Map)
+		}
+		_, lost, _ := impl.AllBlocks(d)
+		return append(lists, lost)
+	}
+	contents := func() [][]string {
+		list, _, _ := impl.AllBlocks(d)
+		again, _, _ := impl.AllBlocks(d)
+		return [][]string{list, again}
+	}
+	wantSectors, wantMaps, wantContents := sectors(), maps(), contents()
+	spoil(t, sectors())
+	spoil(t, maps())
+	spoil(t, contents())
+	is(t, "arguments", []any{d, texts}, []any{statesDevice(), []string{"00000000", "11111111", "22222222", "33333333"}})
+	is(t, "later results", []any{sectors(), maps(), contents()}, []any{wantSectors, wantMaps, wantContents})
+}
+
+func TestP1NilAndEmptyDevicesAreAlike(t *testing.T) {
+	for _, disc := range []impl.Disc{{}, sampleDisc(), {Cylinders: 1, Heads: 1, PerTrack: 1}} {
+		for _, n := range oddNumbers() {
+			none, empty := impl.Device{Disc: disc, Spare: n}, impl.Device{Disc: copied(disc), Spare: n, Map: []int64{}}
+			if len(disc.Sectors) == 0 {
+				empty.Disc.Sectors = []impl.Sector{}
+			}
+			is(t, "devices", stage8Devices(none, empty, n, n, "", nil), stage8Devices(empty, none, n, n, "", []string{}))
+		}
+	}
+	is(t, "files", impl.ValidFiles(nil), impl.ValidFiles([]impl.File{}))
+}
+
+func TestP1DevicesAtTheSameTime(t *testing.T) {
+	var wait sync.WaitGroup
+	got := make([]string, 8)
+	for i := range got {
+		wait.Go(func() {
+			from := source(292)
+			for range 50 {
+				d := from.device(from.disc(2, 2, 4, 1), from.below(8), 1+from.below(15))
+				for range 20 {
+					block := from.below(impl.DeviceBlocks(d))
+					d, _ = impl.ReplaceBlock(d, block)
+					d, _ = impl.WriteDeviceBlock(d, block, from.bytes(16))
+				}
+				list, lost, _ := impl.AllBlocks(d)
+				got[i] += strings.Join(list, "") + strconv.Itoa(len(lost)) + impl.DataOf(d.Disc)
+			}
+		})
+	}
+	wait.Wait()
+	for _, s := range got {
+		is(t, "blocks", s == got[0] && s != "", true)
 	}
 }
