@@ -1464,3 +1464,192 @@ func TestP1DevicesAtTheSameTime(t *testing.T) {
 		is(t, "blocks", s == got[0] && s != "", true)
 	}
 }
+
+// stage9Chains returns the results of all functions of chapter 16 that have a disk as an argument.
+func stage9Chains(disk []string, n, m int64, e impl.ChainEntry, f impl.File) []any {
+	layout, layoutCode := impl.LayoutOf(disk)
+	link, linkCode := impl.LinkAt(disk, n)
+	linked, linkedCode := impl.SetLink(disk, n, m)
+	entry, entryCode := impl.EntryAt(disk, n)
+	entered, enteredCode := impl.SetEntry(disk, n, e)
+	chain, chainCode := impl.ChainFrom(disk, n)
+	names, namesCode := impl.ListChains(disk)
+	data, dataCode := impl.ReadChain(disk, f.Name)
+	written, writtenCode := impl.WriteChain(disk, f)
+	gone, goneCode := impl.DeleteChain(disk, f.Name)
+	free, freeCode := impl.FreeChains(disk)
+	return []any{layoutCode, layout, linkCode, link, linkedCode, linked, entryCode, entry, enteredCode, entered, chainCode, chain, namesCode, names, dataCode, data, writtenCode, written, goneCode, gone, freeCode, free}
+}
+
+// stage9Extents returns the results of all functions of chapter 17 that have a disk as an argument.
+func stage9Extents(disk []string, n int64, e impl.ExtentEntry, f impl.File) []any {
+	layout, layoutCode := impl.ExtentsOn(disk)
+	entry, entryCode := impl.ExtentAt(disk, n)
+	entered, enteredCode := impl.SetExtent(disk, n, e)
+	names, namesCode := impl.ListExtents(disk)
+	data, dataCode := impl.ReadExtents(disk, f.Name)
+	written, writtenCode := impl.WriteExtents(disk, f)
+	gone, goneCode := impl.DeleteExtents(disk, f.Name)
+	free, freeCode := impl.FreeExtents(disk)
+	problems, problemsCode := impl.ExtentProblems(disk)
+	return []any{layoutCode, layout, entryCode, entry, enteredCode, entered, namesCode, names, dataCode, data, writtenCode, written, goneCode, gone, freeCode, free, problemsCode, problems}
+}
+
+// oddDisks are disks with chains and with extents, damaged ones, and lists that are no disks.
+func oddDisks(t *testing.T) [][]string {
+	from := source(320)
+	list := [][]string{nil, {}, oddStrings(), make([]string, 100000), slices.Repeat([]string{strings.Repeat("x", 1<<16)}, 16)}
+	for i := range int64(12) {
+		list = append(list, from.anyChains(t, i), from.anyExtents(t, i))
+	}
+	for i, disk := range noDisks(func(blocks, size int) string { return chainStart(blocks, min(16, blocks/8), size) }) {
+		if i%17 == 0 {
+			list = append(list, disk)
+		}
+	}
+	// Nothing of these is as it should be, but the header.
+	for _, l := range chainShapes()[:12] {
+		disk := slices.Repeat([]string{from.bytes(int(l.Size))}, int(l.Blocks))
+		disk[0] = chainStart(int(l.Blocks), int(l.Entries), int(l.Size))
+		list = append(list, disk)
+	}
+	for _, l := range extentShapes()[:12] {
+		disk := slices.Repeat([]string{from.bytes(int(l.Size))}, int(l.Blocks))
+		disk[0] = extentStart(int(l.Blocks), int(l.Size), int(l.Entries))
+		list = append(list, disk)
+	}
+	return list
+}
+
+func oddDiskFiles() []impl.File {
+	list := []impl.File{{Name: "A", Data: "abc"}, {Name: "B"}, {Name: "C", Data: strings.Repeat("x", 512)}, {Name: "D", Data: strings.Repeat("x", 513)}, {Name: "LONG", Data: strings.Repeat("x", 1<<16)}}
+	for _, name := range oddStrings() {
+		list = append(list, impl.File{Name: name, Data: "abc"})
+	}
+	return list
+}
+
+func TestP1Disks(t *testing.T) {
+	chains, extents := append(invalidEntries(), impl.ChainEntry{}), append(invalidExtents(), impl.ExtentEntry{})
+	for _, e := range validEntries() {
+		chains = append(chains, e)
+	}
+	for _, e := range validExtents() {
+		extents = append(extents, e)
+	}
+	files, numbers := oddDiskFiles(), append(oddNumbers(), 3, 5, 8, 9, 15, 16, 31, 32, 40, 127, 128, 253, 254, 255, 256)
+	for i, disk := range oddDisks(t) {
+		for j, n := range numbers {
+			m := numbers[(i+3*j)%len(numbers)]
+			e, x, f := chains[(i+j)%len(chains)], extents[(i+j)%len(extents)], files[(i+2*j)%len(files)]
+			got := append(stage9Chains(disk, n, m, e, f), stage9Extents(disk, n, x, f)...)
+			if !reflect.DeepEqual(got, append(stage9Chains(disk, n, m, e, f), stage9Extents(disk, n, x, f)...)) {
+				t.Errorf("other results for disk %d, %d, and %d", i, n, m)
+			}
+			noMore(t, "chapters 16 and 17", got...)
+		}
+	}
+	for _, n := range numbers {
+		for _, m := range numbers {
+			chains, chainsCode := impl.FormatChains(n, m)
+			extents, extentsCode := impl.FormatExtents(n, m)
+			alone(t, "new disks", chainsCode, chains, extentsCode, extents)
+		}
+	}
+}
+
+func TestP1DisksAreUnchanged(t *testing.T) {
+	for i, disk := range oddDisks(t) {
+		short, all := filled(disk, "room")
+		before := slices.Clone(all)
+		for n := int64(-1); n < 40; n++ {
+			blocks, room := roomyList([]int64{n + 1, 5, 9})
+			wantRoom := slices.Clone(room)
+			f := impl.File{Name: string(rune('A' + (n+1)%7)), Data: strings.Repeat("y", int(n+1))}
+			stage9Chains(short, n, 255-n, impl.ChainEntry{Name: "AB", First: 3, Length: 4, Used: true}, f)
+			stage9Extents(short, n, impl.ExtentEntry{State: 1, Name: "AB", Tail: 3, Blocks: blocks}, f)
+			is(t, "blocks", room, wantRoom)
+		}
+		is(t, "disk "+strconv.Itoa(i), slices.Equal(all, before), true)
+	}
+}
+
+func TestP1ResultsOfDisksShareNoMemory(t *testing.T) {
+	disk, other := chainsWith(t, 32, 8, "A 9", "B 20"), extentsWith(t, 32, 8, extentOf("A", 0, 8, 17, 17), extentOf("A", 0, 0, 3), goneExtent("C", 1, 1, 17))
+	want, wantOther := slices.Clone(disk), slices.Clone(other)
+	disks := func() [][]string {
+		a, _ := impl.FormatChains(16, 8)
+		b, _ := impl.SetLink(disk, 11, 12)
+		c, _ := impl.SetEntry(disk, 3, impl.ChainEntry{})
+		d, _ := impl.WriteChain(disk, fileOf("A 9"))
+		e, _ := impl.DeleteChain(disk, "A")
+		f, _ := impl.FormatExtents(16, 8)
+		g, _ := impl.SetExtent(other, 5, impl.ExtentEntry{})
+		h, _ := impl.WriteExtents(other, fileOf("B 9"))
+		i, _ := impl.DeleteExtents(other, "A")
+		names, _ := impl.ListChains(disk)
+		others, _ := impl.ListExtents(other)
+		return [][]string{a, b, c, d, e, f, g, h, i, names, others}
+	}
+	numbers := func() [][]int64 {
+		chain, _ := impl.ChainFrom(disk, 11)
+		free, _ := impl.FreeChains(disk)
+		blocks, _ := impl.ExtentAt(other, 0)
+		same, _ := impl.ExtentAt(other, 0)
+		others, _ := impl.FreeExtents(other)
+		return [][]int64{chain, free, blocks.Blocks, same.Blocks, others}
+	}
+	problems := func() [][]impl.ExtentProblem {
+		a, _ := impl.ExtentProblems(other)
+		b, _ := impl.ExtentProblems(other)
+		return [][]impl.ExtentProblem{a, b}
+	}
+	wantDisks, wantNumbers, wantProblems := disks(), numbers(), problems()
+	spoil(t, disks())
+	spoil(t, numbers())
+	spoil(t, problems())
+	is(t, "arguments", []any{disk, other}, []any{want, wantOther})
+	is(t, "later results", []any{disks(), numbers(), problems()}, []any{wantDisks, wantNumbers, wantProblems})
+}
+
+func TestP1NilAndEmptyDisksAreAlike(t *testing.T) {
+	is(t, "chains", stage9Chains(nil, 0, 0, impl.ChainEntry{}, impl.File{}), stage9Chains([]string{}, 0, 0, impl.ChainEntry{}, impl.File{}))
+	is(t, "extents", stage9Extents(nil, 0, impl.ExtentEntry{}, impl.File{}), stage9Extents([]string{}, 0, impl.ExtentEntry{}, impl.File{}))
+	disk := extentsWith(t, 16, 16, extentOf("A", 0, 0))
+	for _, e := range []impl.ExtentEntry{{}, {State: 1, Name: "A"}, {State: 229, Name: "A", Tail: 16}, {State: 5}} {
+		empty := e
+		empty.Blocks = []int64{}
+		is(t, "no blocks", stage9Extents(disk, 0, e, impl.File{}), stage9Extents(disk, 0, empty, impl.File{}))
+	}
+}
+
+func TestP1DisksAtTheSameTime(t *testing.T) {
+	var wait sync.WaitGroup
+	got := make([]string, 8)
+	disk, other := chainsWith(t, 64, 16, "A 100"), wroteExtents(t, newExtents(t, 64, 16), "A 100")
+	for i := range got {
+		wait.Go(func() {
+			from := source(321)
+			a, b := disk, other
+			for range 100 {
+				f := impl.File{Name: string(rune('A' + from.below(9))), Data: from.bytes(int(from.below(90)))}
+				if next, c := impl.WriteChain(a, f); c == impl.OK {
+					a = next
+				}
+				if next, c := impl.WriteExtents(b, f); c == impl.OK {
+					b = next
+				}
+				if next, c := impl.DeleteChain(a, string(rune('A'+from.below(20)))); c == impl.OK {
+					a = next
+				}
+			}
+			names, _ := impl.ListChains(a)
+			others, _ := impl.ListExtents(b)
+			got[i] = strings.Join(append(append(append(a, b...), names...), others...), "")
+		})
+	}
+	wait.Wait()
+	for _, s := range got {
+		is(t, "disks", s == got[0] && s != "", true)
+	}
+}
