@@ -1653,3 +1653,136 @@ func TestP1DisksAtTheSameTime(t *testing.T) {
 		is(t, "disks", s == got[0] && s != "", true)
 	}
 }
+
+// stage10Trees returns the results of all functions of chapter 18, of which those that may fail come first.
+func stage10Trees(disk []string, path, data string, n int64) []any {
+	made, madeCode := impl.FormatTree(n)
+	mended, mendedCode := impl.MendTree(disk)
+	list := append(append(treeCodes(disk, path, data), wholeCodes(disk)...), madeCode, made, mendedCode, mended)
+	return append(list, impl.CheckTree(disk), impl.HashOf(path), impl.SealBlock(data))
+}
+
+// oddTrees are trees, damaged ones, and lists that are no disks.
+func oddTrees(t *testing.T) [][]string {
+	from := source(340)
+	list := [][]string{nil, {}, oddStrings(), make([]string, 100000), slices.Repeat([]string{strings.Repeat("x", 1<<16)}, 16), sampleTree(), deepTree(t, 62), slices.Repeat([]string{strings.Repeat("\xff", 32)}, 128)}
+	for i := range int64(20) {
+		list = append(list, from.anyTree(t, i%5))
+	}
+	for _, disk := range otherDisks(t) {
+		if len(disk)%3 == 0 {
+			list = append(list, disk)
+		}
+	}
+	// All numbers of blocks are as large as they can be.
+	for _, number := range []int{4, 127, 128, 255} {
+		x := plainTreeOf(sampleTree())
+		for block := range x {
+			for _, at := range []int{2, 4, 12, 14, 19} {
+				if block > 0 || at == 4 {
+					x.set(block, at, number)
+				}
+			}
+		}
+		list = append(list, x.disk())
+	}
+	return list
+}
+
+func TestP1Trees(t *testing.T) {
+	paths, numbers := append(noPaths(), "A", "D", "D/A", "D/E", "A/A/A/A", "X", "I/X", "D/E/X"), append(oddNumbers(), 3, 5, 127, 128, 129)
+	texts := append(oddStrings(), strings.Repeat("x", 32), strings.Repeat("x", 512), strings.Repeat("x", 513))
+	for i, disk := range oddTrees(t) {
+		for j, path := range paths {
+			data, n := texts[(i+j)%len(texts)], numbers[(i+2*j)%len(numbers)]
+			got := stage10Trees(disk, path, data, n)
+			if !reflect.DeepEqual(got, stage10Trees(disk, path, data, n)) {
+				t.Errorf("other results for tree %d, %.40q, %d bytes and %d", i, path, len(data), n)
+			}
+			alone(t, "chapter 18", got[:18]...)
+		}
+	}
+	for _, n := range numbers {
+		made, c := impl.FormatTree(n)
+		is(t, "new tree", []bool{len(made) > 0, c == impl.OK}, []bool{n >= 4 && n <= 128, n >= 4 && n <= 128})
+	}
+}
+
+func TestP1TreesAreUnchanged(t *testing.T) {
+	for i, disk := range oddTrees(t) {
+		short, all := filled(disk, "room")
+		before := slices.Clone(all)
+		for j, path := range []string{"", "A", "D", "D/A", "D/E", "I", "X", "D/X", "A/X", "LONGNAME", "a", "F", "A/F"} {
+			stage10Trees(short, path, strings.Repeat("y", 40*j), 16)
+		}
+		is(t, "tree "+strconv.Itoa(i), slices.Equal(all, before), true)
+	}
+}
+
+func TestP1ResultsOfTreesShareNoMemory(t *testing.T) {
+	disk, damaged := sampleTree(), changedTree(func(x plainTree) { x.tear(2); x.tear(6) })
+	want, wantDamaged := slices.Clone(disk), slices.Clone(damaged)
+	lists := func() [][]string {
+		a, _ := impl.FormatTree(16)
+		b, _ := impl.MakeDirectory(disk, "X")
+		c, _ := impl.WriteTree(disk, "A", "ALPHA")
+		d, _ := impl.WriteTree(disk, "X", "")
+		e, _ := impl.DeleteTree(disk, "I")
+		f, _ := impl.ListTree(disk, "")
+		g, _ := impl.ListTree(disk, "D")
+		h, _ := impl.TreePaths(disk)
+		i, _ := impl.MendTree(disk)
+		j, _ := impl.MendTree(damaged)
+		return [][]string{a, b, c, d, e, f, g, h, i, j}
+	}
+	problems := func() [][]impl.TreeProblem {
+		return [][]impl.TreeProblem{impl.CheckTree(damaged), impl.CheckTree(damaged), impl.CheckTree(nil), impl.CheckTree(nil), impl.CheckTree(damaged[1:])}
+	}
+	wantLists, wantProblems := lists(), problems()
+	spoil(t, lists())
+	spoil(t, problems())
+	is(t, "arguments", []any{disk, damaged}, []any{want, wantDamaged})
+	is(t, "later results", []any{lists(), problems()}, []any{wantLists, wantProblems})
+}
+
+func TestP1NilAndEmptyTreesAreAlike(t *testing.T) {
+	for _, path := range []string{"", "A", "a"} {
+		is(t, "trees", stage10Trees(nil, path, "", 0), stage10Trees([]string{}, path, "", 0))
+	}
+}
+
+func TestP1TreesAtTheSameTime(t *testing.T) {
+	var wait sync.WaitGroup
+	got := make([]string, 8)
+	first := treeWith(t, 64, "A/", "A/B/", "A/F 100")
+	for i := range got {
+		wait.Go(func() {
+			from := source(341)
+			disk := first
+			for range 100 {
+				path := from.anyPath()
+				if next, c := impl.WriteTree(disk, path, from.bytes(int(from.below(90)))); c == impl.OK {
+					disk = next
+				}
+				if next, c := impl.MakeDirectory(disk, from.anyPath()); c == impl.OK {
+					disk = next
+				}
+				if next, c := impl.DeleteTree(disk, from.anyPath()); c == impl.OK {
+					disk = next
+				}
+				x := plainTreeOf(disk)
+				from.damage(x)
+				if next, c := impl.MendTree(x.disk()); c == impl.OK {
+					disk = next
+				}
+				got[i] += strconv.Itoa(len(impl.CheckTree(x.disk())))
+			}
+			paths, _ := impl.TreePaths(disk)
+			got[i] += strings.Join(append(disk, paths...), "")
+		})
+	}
+	wait.Wait()
+	for _, s := range got {
+		is(t, "trees", s == got[0] && s != "", true)
+	}
+}
