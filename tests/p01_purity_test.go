@@ -1786,3 +1786,191 @@ func TestP1TreesAtTheSameTime(t *testing.T) {
 		is(t, "trees", s == got[0] && s != "", true)
 	}
 }
+
+// stage11Checks returns the results of all functions of chapter 19 that have a disk as an argument and may fail.
+func stage11Checks(disk []string, k int64) []any {
+	walks, walksCode := impl.WalksOf(disk)
+	owners, ownersCode := impl.OwnersOf(disk)
+	lost, lostCode := impl.LostBlocks(disk)
+	chains, chainsCode := impl.LostChains(disk)
+	few, fewCode := impl.EntryProblems(disk, k)
+	all, allCode := impl.CheckChains(disk)
+	return []any{walksCode, walks, ownersCode, owners, lostCode, lost, chainsCode, chains, fewCode, few, allCode, all}
+}
+
+// stage11Mends returns the results of all functions of chapter 20, each with a code before it.
+func stage11Mends(disk, other []string, prefix string) []any {
+	name, nameCode := impl.SpareName(disk, prefix)
+	entries, emptied, renamed, entriesCode := impl.MendEntries(disk)
+	links, linkCount, linksCode := impl.MendLinks(disk)
+	lengths, lengthCount, lengthsCode := impl.MendLengths(disk)
+	lost, found, freed, lostCode := impl.MendLost(disk)
+	mended, count, mendedCode := impl.MendChains(disk)
+	sound, soundCode := impl.SoundFiles(disk)
+	kept, keptCode := impl.KeptFiles(disk, other)
+	small, smallCode := impl.CompactChains(disk)
+	return []any{
+		nameCode, name, entriesCode, entries, entriesCode, emptied, entriesCode, renamed, linksCode, links, linksCode, linkCount, lengthsCode, lengths, lengthsCode, lengthCount,
+		lostCode, lost, lostCode, found, lostCode, freed, mendedCode, mended, mendedCode, count, soundCode, sound, keptCode, kept, smallCode, small,
+	}
+}
+
+// oddChains are disks that are not as they should be, and lists that are no disks.
+func oddChains(t *testing.T) [][]string {
+	from := source(420)
+	list := oddDisks(t)
+	for range 40 {
+		list = append(list, from.messedChains(t))
+	}
+	// All links, and all numbers of entries, are as large as they can be.
+	for _, l := range chainShapes() {
+		x := plainChainsOf(newChains(t, l.Blocks, l.Size))
+		for block := range x.blocks {
+			x.setLink(int64(block), 255-block%3)
+		}
+		for k := range x.entries {
+			copy(x.bytesOf(k), "ABCDEFGH\xff\x02\x00\x01")
+		}
+		list = append(list, x.disk())
+	}
+	return list
+}
+
+func TestP1Checks(t *testing.T) {
+	prefixes := append(oddStrings(), "DUP", "LOST", "ABCDEF", "ABCDEFG", "A_9", "DUP ", "dup")
+	numbers := append(oddNumbers(), 3, 5, 8, 9, 15, 16, 17)
+	all := oddChains(t)
+	for i, disk := range all {
+		for j, n := range numbers {
+			if j%5 != i%5 {
+				continue
+			}
+			prefix, other := prefixes[(i+j)%len(prefixes)], all[(i+7*j)%len(all)]
+			results := func() []any {
+				return append(append(stage11Checks(disk, n), stage11Mends(disk, other, prefix)...), impl.CleanChains(disk))
+			}
+			got := results()
+			if !reflect.DeepEqual(got, results()) {
+				t.Errorf("other results for disk %d, %d and %.40q", i, n, prefix)
+			}
+			alone(t, "chapters 19 and 20", got[:len(got)-1]...)
+		}
+	}
+}
+
+func TestP1TextsOfProblems(t *testing.T) {
+	for _, s := range append(oddStrings(), "loop 1 9", "lost 0 "+strings.Repeat("0", 1<<16), strings.Repeat("loop 1 9 ", 5000), "range "+strings.Repeat("9", 1<<16)+" 1") {
+		x, ok := impl.ReadProblem(s)
+		y, again := impl.ReadProblem(s)
+		is(t, "problem", []any{x, ok}, []any{y, again})
+		is(t, "no problem", ok || x == impl.ChainProblem{}, true)
+	}
+	for _, kind := range oddNumbers() {
+		for _, entry := range oddNumbers() {
+			for _, block := range oddNumbers() {
+				x := impl.ChainProblem{Kind: kind, Entry: entry, Block: block}
+				is(t, "text", impl.ProblemText(x), impl.ProblemText(x))
+			}
+		}
+	}
+}
+
+func TestP1CheckedDisksAreUnchanged(t *testing.T) {
+	for i, disk := range oddChains(t) {
+		short, all := filled(disk, "room")
+		other, allOthers := filled(chainsWith(t, 64, 16, "A 40", "B 9"), "room")
+		before, beforeOthers := slices.Clone(all), slices.Clone(allOthers)
+		stage11Checks(short, int64(i%17)-1)
+		stage11Mends(short, other, "DUP")
+		stage11Mends(other, short, "LOST")
+		is(t, "disk "+strconv.Itoa(i), slices.Equal(all, before) && slices.Equal(allOthers, beforeOthers), true)
+	}
+}
+
+func TestP1ResultsOfChecksShareNoMemory(t *testing.T) {
+	disk := chainsLike(t, "11-12-13-E 20-21-12 30-31-30 40-E 10-11", "A 11 16", "?", "B 20 48", "A 0 5", "C 0 0")
+	clean := chainsWith(t, 64, 16, "A 40", "B 9")
+	want, wantClean := slices.Clone(disk), slices.Clone(clean)
+	lists := func() [][]string {
+		a, _, _, _ := impl.MendEntries(disk)
+		b, _, _ := impl.MendLinks(disk)
+		c, _, _ := impl.MendLengths(disk)
+		d, _, _, _ := impl.MendLost(linked(clean, "40-E"))
+		e, _, _ := impl.MendChains(disk)
+		f, _, _, _ := impl.MendEntries(clean)
+		g, _, _ := impl.MendLinks(clean)
+		h, _, _ := impl.MendLengths(clean)
+		i, _, _, _ := impl.MendLost(clean)
+		j, _, _ := impl.MendChains(clean)
+		k, _ := impl.CompactChains(clean)
+		l, _ := impl.KeptFiles(clean, clean)
+		return [][]string{a, b, c, d, e, f, g, h, i, j, k, l}
+	}
+	numbers := func() [][]int64 {
+		walks, _ := impl.WalksOf(disk)
+		again, _ := impl.WalksOf(disk)
+		owners, _ := impl.OwnersOf(disk)
+		lost, _ := impl.LostBlocks(disk)
+		chains, _ := impl.LostChains(disk)
+		return append(chains, walks[0].Blocks, walks[2].Blocks, again[0].Blocks, again[2].Blocks, owners, lost)
+	}
+	problems := func() [][]impl.ChainProblem {
+		a, _ := impl.CheckChains(disk)
+		b, _ := impl.EntryProblems(disk, 2)
+		c, _ := impl.EntryProblems(disk, 2)
+		return [][]impl.ChainProblem{a, b, c}
+	}
+	files := func() [][]impl.File {
+		a, _ := impl.SoundFiles(clean)
+		b, _ := impl.SoundFiles(clean)
+		return [][]impl.File{a, b}
+	}
+	walks := func() [][]impl.ChainWalk {
+		a, _ := impl.WalksOf(disk)
+		b, _ := impl.WalksOf(disk)
+		return [][]impl.ChainWalk{a, b}
+	}
+	results := func() []any { return []any{lists(), numbers(), problems(), files(), walks()} }
+	before := results()
+	spoil(t, lists())
+	spoil(t, numbers())
+	spoil(t, problems())
+	spoil(t, files())
+	spoil(t, walks())
+	chains, _ := impl.LostChains(disk)
+	spoil(t, [][][]int64{chains})
+	is(t, "arguments", []any{disk, clean}, []any{want, wantClean})
+	is(t, "later results", results(), before)
+}
+
+func TestP1NilAndEmptyCheckedDisksAreAlike(t *testing.T) {
+	disk := chainsWith(t, 16, 16, "A 5")
+	is(t, "checks", stage11Checks(nil, 0), stage11Checks([]string{}, 0))
+	is(t, "mends", stage11Mends(nil, disk, "DUP"), stage11Mends([]string{}, disk, "DUP"))
+	is(t, "mends", stage11Mends(disk, nil, "DUP"), stage11Mends(disk, []string{}, "DUP"))
+}
+
+func TestP1MendingAtTheSameTime(t *testing.T) {
+	var wait sync.WaitGroup
+	got := make([]string, 8)
+	from := source(421)
+	disks := [][]string{}
+	for range 30 {
+		disks = append(disks, from.messedChains(t))
+	}
+	for i := range got {
+		wait.Go(func() {
+			for _, disk := range disks {
+				problems, _ := impl.CheckChains(disk)
+				after, _, _ := impl.MendChains(disk)
+				small, _ := impl.CompactChains(after)
+				names, _ := impl.KeptFiles(disk, small)
+				got[i] += problemText(problems) + strings.Join(slices.Concat(after, small, names), "")
+			}
+		})
+	}
+	wait.Wait()
+	for _, s := range got {
+		is(t, "mended disks", s == got[0] && s != "", true)
+	}
+}
