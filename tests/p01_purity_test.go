@@ -1974,3 +1974,253 @@ func TestP1MendingAtTheSameTime(t *testing.T) {
 		is(t, "mended disks", s == got[0] && s != "", true)
 	}
 }
+
+// stage12Chains returns the results of all functions of chapter 21 for disks with chains, each behind its code.
+func stage12Chains(disk []string, k int64) []any {
+	gone, goneCode := impl.GoneChains(disk)
+	blocks, blocksCode := impl.GoneBlocks(disk, k)
+	after, afterCode := impl.UndeleteChain(disk, k)
+	return []any{goneCode, gone, blocksCode, blocks, afterCode, after}
+}
+
+// stage12Extents returns those for disks with extents.
+func stage12Extents(disk []string, name string) []any {
+	gone, goneCode := impl.GoneExtents(disk)
+	after, afterCode := impl.UndeleteExtents(disk, name)
+	return []any{goneCode, gone, afterCode, after}
+}
+
+// stage12Carving returns those for all other disks.
+func stage12Carving(disk []string, block int64, head, tail string, most int64) []any {
+	one, oneCode := impl.CarveAt(disk, block, head, tail, most)
+	all, allCode := impl.CarveAll(disk, head, tail, most)
+	return []any{oneCode, one, allCode, all}
+}
+
+// stage12Systems returns the results of all functions of chapter 22 that may have a disk as an argument.
+func stage12Systems(from int64, disk []string, to, blocks int64, list []impl.File) []any {
+	files, filesCode := impl.FilesOfSystem(from, disk)
+	made, madeCode := impl.MakeSystem(to, blocks, list)
+	other, otherCode := impl.ConvertSystem(from, disk, to, blocks)
+	kind, kindCode := impl.GuessSystem(disk)
+	return []any{filesCode, files, madeCode, made, otherCode, other, kindCode, kind}
+}
+
+// stage12Lists returns those of all other functions of chapter 22.
+func stage12Lists(a, b []impl.File, s string) []any {
+	joined, joinedCode := impl.JoinFiles(a, b)
+	names, ok := impl.ChangedFiles(a, b)
+	list, isText := impl.ReadFiles(s)
+	return []any{joinedCode, joined, ok, names, isText, list, true, impl.SameFiles(a, b), true, impl.FilesText(a)}
+}
+
+// oddSystems are disks of all kinds with deleted entries, damaged ones, and lists that are no disks.
+func oddSystems(t *testing.T) [][]string {
+	from := source(620)
+	list := append(oddDisks(t), oddTrees(t)...)
+	for i := range int64(30) {
+		x := plainChainsOf(from.messedChains(t))
+		for k := range x.entries {
+			x.bytesOf(k)[11] = byte(1 + from.below(2))
+		}
+		y := plainExtentsOf(from.anyExtents(t, i%4))
+		for k := range y.entries {
+			y.bytesOf(k)[0] = []byte{0, 1, 229, 229}[from.below(4)]
+		}
+		list = append(list, x.disk(), y.disk())
+	}
+	return list
+}
+
+func TestP1GoneFiles(t *testing.T) {
+	names := append(oddStrings(), "A", "B", "C", "D", "E")
+	numbers := append(oddNumbers(), 3, 5, 8, 9, 15, 16, 17)
+	for i, disk := range oddSystems(t) {
+		for j, n := range numbers {
+			name := names[(i+3*j)%len(names)]
+			results := func() []any { return append(stage12Chains(disk, n), stage12Extents(disk, name)...) }
+			got := results()
+			if !reflect.DeepEqual(got, results()) {
+				t.Errorf("other results for disk %d, %d and %.40q", i, n, name)
+			}
+			alone(t, "gone files", got...)
+		}
+	}
+}
+
+func TestP1Carving(t *testing.T) {
+	texts := append(oddStrings(), "CH", "EX", "\x01", "\x00\x00", strings.Repeat("\x00", 600), strings.Repeat("x", impl.MaxBytes))
+	numbers := append(oddNumbers(), 3, 5, 16, 31, 32, 33, 63, 64, 127, 128, 129)
+	disks := append(oddSystems(t), slices.Repeat([]string{"x"}, 128), slices.Repeat([]string{"x"}, 129), slices.Repeat([]string{strings.Repeat("x", 64)}, 128), slices.Repeat([]string{strings.Repeat("x", 65)}, 128), []string{"<ab", "cd>", "xyz"}, []string{"1", "10", ""})
+	for i, disk := range disks {
+		for j, n := range numbers {
+			head, tail, most := texts[(i+2*j)%len(texts)], texts[(3*i+j)%len(texts)], numbers[(i+5*j)%len(numbers)]
+			for _, head := range []string{head, "x", "\x00"} {
+				got := stage12Carving(disk, n, head, tail, most)
+				if !reflect.DeepEqual(got, stage12Carving(disk, n, head, tail, most)) {
+					t.Errorf("other results for disk %d, %d, %.40q and %.40q", i, n, head, tail)
+				}
+				alone(t, "carving", got...)
+			}
+		}
+	}
+	for i, s := range texts {
+		for j, part := range texts {
+			n := numbers[(i+j)%len(numbers)]
+			is(t, "place", impl.PlaceOf(s, part, n), impl.PlaceOf(s, part, n))
+		}
+	}
+}
+
+// oddLists12 are lists of files, of which many are not valid.
+func oddLists12() [][]impl.File {
+	long := make([]impl.File, 100000)
+	return append(invalidFiles(), nil, []impl.File{}, named("A"), named("A", "B", "C"), manyFiles(5), manyFiles(16), oddDiskFiles(), long, []impl.File{{Name: "A", Data: strings.Repeat("x", 512)}})
+}
+
+func TestP1Systems(t *testing.T) {
+	kinds, numbers, lists := []int64{1, 2, 3, 0, 4}, append(oddNumbers(), 3, 5, 8, 9, 16, 40, 127, 128, 129), oddLists12()
+	for i, disk := range oddSystems(t) {
+		for j, n := range numbers {
+			from, to, list := kinds[j%5], kinds[(i+j/5)%5], lists[(i+2*j)%len(lists)]
+			if n == 1000 {
+				from = math.MinInt64
+			}
+			got := stage12Systems(from, disk, to, n, list)
+			if !reflect.DeepEqual(got, stage12Systems(from, disk, to, n, list)) {
+				t.Errorf("other results for disk %d, %d, %d and %d", i, from, to, n)
+			}
+			alone(t, "systems", got...)
+		}
+	}
+}
+
+func TestP1Lists(t *testing.T) {
+	lists := oddLists12()
+	texts := append(oddStrings(), "A 31\n", "A -\nB 3132\n", "A 3g\n", strings.Repeat("A -\n", 50000), "A "+strings.Repeat("00", 1<<16)+"\n")
+	for i, a := range lists {
+		for j, b := range lists {
+			s := texts[(i+j)%len(texts)]
+			got := stage12Lists(a, b, s)
+			if !reflect.DeepEqual(got, stage12Lists(a, b, s)) {
+				t.Errorf("other results for lists %d and %d, and %.40q", i, j, s)
+			}
+			alone(t, "lists", got...)
+		}
+	}
+}
+
+func TestP1SystemsAreUnchanged(t *testing.T) {
+	for i, disk := range oddSystems(t) {
+		short, all := filled(disk, "room")
+		before := slices.Clone(all)
+		files, allFiles := filled(manyFiles(i%5), impl.File{Name: "ROOM"})
+		others, allOthers := filled(manyFiles(7+i%5), impl.File{Name: "ROOM"})
+		beforeFiles, beforeOthers := slices.Clone(allFiles), slices.Clone(allOthers)
+		for k := int64(-1); k < 17; k++ {
+			stage12Chains(short, k)
+			stage12Extents(short, string(rune('A'+(k+1)%6)))
+			stage12Carving(short, k, "x", "\x00", 2)
+			stage12Systems(k%3+1, short, k%4, 8*k, files)
+			stage12Lists(files, others, "A -\n")
+			stage12Lists(others, files, "")
+		}
+		is(t, "disk "+strconv.Itoa(i), slices.Equal(all, before), true)
+		is(t, "files", slices.Equal(allFiles, beforeFiles) && slices.Equal(allOthers, beforeOthers), true)
+	}
+}
+
+func TestP1ResultsOfSystemsShareNoMemory(t *testing.T) {
+	disk := chainsLike(t, "", "A 11 40 gone", "B 20 16 gone", "B 30 16 gone")
+	other := extentsWith(t, 64, 16, goneExtent("A", 0, 16, 20, 21), goneExtent("B", 0, 0))
+	full := systemWith(t, impl.FsTrees, 32, "A 40", "B 0", "C 5")
+	a, b := filesOf("A 5", "B 9", "D 0"), filesOf("B 9", "C 5")
+	want := []any{slices.Clone(disk), slices.Clone(other), slices.Clone(full), slices.Clone(a), slices.Clone(b)}
+	names := func() [][]string {
+		first, _ := impl.UndeleteChain(disk, 0)
+		second, _ := impl.UndeleteChain(disk, 1)
+		third, _ := impl.UndeleteExtents(other, "A")
+		gone, _ := impl.GoneExtents(other)
+		again, _ := impl.GoneExtents(other)
+		made, _ := impl.MakeSystem(impl.FsChains, 24, a)
+		empty, _ := impl.MakeSystem(impl.FsChains, 16, nil)
+		same, _ := impl.ConvertSystem(impl.FsTrees, full, impl.FsTrees, 32)
+		changed, _ := impl.ChangedFiles(a, b)
+		return [][]string{first, second, third, gone, again, made, empty, same, changed}
+	}
+	numbers := func() [][]int64 {
+		gone, _ := impl.GoneChains(disk)
+		again, _ := impl.GoneChains(disk)
+		blocks, _ := impl.GoneBlocks(disk, 0)
+		others, _ := impl.GoneBlocks(disk, 0)
+		return [][]int64{gone, again, blocks, others}
+	}
+	files := func() [][]impl.File {
+		all, _ := impl.FilesOfSystem(impl.FsTrees, full)
+		again, _ := impl.FilesOfSystem(impl.FsTrees, full)
+		joined, _ := impl.JoinFiles(a, b)
+		alone, _ := impl.JoinFiles(a, nil)
+		behind, _ := impl.JoinFiles(nil, b)
+		read, _ := impl.ReadFiles("A 31\nB -\n")
+		return [][]impl.File{all, again, joined, alone, behind, read}
+	}
+	carved := func() [][]impl.Carved {
+		first, _ := impl.CarveAll([]string{"<a>", "<b>"}, "<", ">", 1)
+		second, _ := impl.CarveAll([]string{"<a>", "<b>"}, "<", ">", 1)
+		return [][]impl.Carved{first, second}
+	}
+	results := func() []any { return []any{names(), numbers(), files(), carved()} }
+	before := results()
+	spoil(t, names())
+	spoil(t, numbers())
+	spoil(t, files())
+	spoil(t, carved())
+	is(t, "arguments", []any{disk, other, full, a, b}, want)
+	is(t, "later results", results(), before)
+}
+
+func TestP1NilAndEmptySystemsAreAlike(t *testing.T) {
+	none, empty := []string(nil), []string{}
+	is(t, "chains", stage12Chains(none, 0), stage12Chains(empty, 0))
+	is(t, "extents", stage12Extents(none, "A"), stage12Extents(empty, "A"))
+	is(t, "carving", stage12Carving(none, 0, "A", "B", 1), stage12Carving(empty, 0, "A", "B", 1))
+	for kind := int64(0); kind < 5; kind++ {
+		is(t, "systems", stage12Systems(kind, none, 1, 16, nil), stage12Systems(kind, empty, 1, 16, []impl.File{}))
+		is(t, "new systems", stage12Systems(1, none, kind, 16, nil), stage12Systems(1, none, kind, 16, []impl.File{}))
+	}
+	for _, list := range [][]impl.File{nil, named("A"), named("a")} {
+		is(t, "lists", stage12Lists(nil, list, ""), stage12Lists([]impl.File{}, list, ""))
+		is(t, "lists", stage12Lists(list, nil, ""), stage12Lists(list, []impl.File{}, ""))
+	}
+}
+
+func TestP1ConvertingAtTheSameTime(t *testing.T) {
+	var wait sync.WaitGroup
+	got := make([]string, 8)
+	disks, others := [][]string{}, [][]string{}
+	from := source(621)
+	for range 30 {
+		disks, others = append(disks, from.anyChains(t, 0)), append(others, from.anyExtents(t, 0))
+	}
+	for i := range got {
+		wait.Go(func() {
+			for j, disk := range disks {
+				for k := range int64(16) {
+					if after, c := impl.UndeleteChain(disk, k); c == impl.OK {
+						disk = after
+					}
+				}
+				tree, _ := impl.ConvertSystem(impl.FsChains, disk, impl.FsTrees, 128)
+				extents, _ := impl.ConvertSystem(impl.FsTrees, tree, impl.FsExtents, 128)
+				first, _ := impl.FilesOfSystem(impl.FsExtents, extents)
+				second, _ := impl.FilesOfSystem(impl.FsExtents, others[j])
+				joined, _ := impl.JoinFiles(first, second)
+				got[i] += strings.Join(slices.Concat(disk, tree, extents), "") + impl.FilesText(joined)
+			}
+		})
+	}
+	wait.Wait()
+	for _, s := range got {
+		is(t, "disks", s == got[0] && s != "", true)
+	}
+}
