@@ -711,7 +711,7 @@ func TestP22ExtentsThatStayGone(t *testing.T) {
 	}
 }
 
-// A disk may still have deleted entries of an older file with the same name, whose Numbers go on behind those of the new one. All of them come back, as the document says.
+// A disk may still have deleted entries of an older file with the same name. All of them come back or none, as the document says, even if the new file was deleted just now.
 func TestP22EntriesOfAnOlderFile(t *testing.T) {
 	disk := newExtents(t, 16, 8)
 	disk, _ = impl.WriteExtents(disk, impl.File{Name: "A", Data: strings.Repeat("a", 40)})
@@ -726,6 +726,13 @@ func TestP22EntriesOfAnOlderFile(t *testing.T) {
 	disk, _ = impl.WriteExtents(disk, impl.File{Name: "A", Data: "d"})
 	disk, _ = impl.DeleteExtents(disk, "A")
 	undeletesExtents(t, "only one is left", disk, "A", "d")
+	// The new file takes an entry before that of the older one.
+	disk = wroteExtents(t, wroteExtents(t, newExtents(t, 16, 8), "B 5"), "A 5")
+	disk, _ = impl.DeleteExtents(disk, "A")
+	disk, _ = impl.DeleteExtents(disk, "B")
+	disk = wroteExtents(t, disk, "A 9")
+	disk, _ = impl.DeleteExtents(disk, "A")
+	extentsStayGone(t, "both have the Number 0", disk, "A", impl.ErrAmbiguous)
 }
 
 func TestP22WrittenDeletedAndUndeletedExtents(t *testing.T) {
