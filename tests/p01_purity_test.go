@@ -2224,3 +2224,141 @@ func TestP1ConvertingAtTheSameTime(t *testing.T) {
 		is(t, "disks", s == got[0] && s != "", true)
 	}
 }
+
+// stage13Groups returns the results of all functions of chapter 23 for a group, each behind its code.
+func stage13Groups(blocks []string, p, q, before, after string, index int64) []any {
+	madeP, madeQ, madeCode := impl.MakeParity(blocks)
+	isRight, rightCode := impl.CheckParity(blocks, p, q)
+	nextP, nextQ, nextCode := impl.UpdateParity(p, q, index, before, after)
+	found, foundCode := impl.FindDamaged(blocks, p, q)
+	return []any{madeCode, madeP, madeCode, madeQ, rightCode, isRight, nextCode, nextP, nextCode, nextQ, foundCode, found}
+}
+
+// stage13Lost returns those for a group of which blocks are lost.
+func stage13Lost(blocks []string, lost []int64, p, q string, index int64) []any {
+	one, oneCode := impl.RestoreOne(blocks, index, p)
+	whole, wholeCode := impl.RestoreTwo(blocks, lost, p, q)
+	return []any{oneCode, one, wholeCode, whole}
+}
+
+// oddGroups are groups and lists that are no groups.
+func oddGroups() [][]string {
+	from := source(720)
+	list := append(noParityGroups(), oddStrings(), slices.Repeat([]string{zeros(64)}, 128))
+	for _, count := range []int{1, 2, 3, 4, 127, 128, 129} {
+		for _, size := range []int{1, 2, 3, 63, 64, 65} {
+			list = append(list, from.group(count, size))
+		}
+	}
+	return list
+}
+
+func oddLosses() [][]int64 {
+	return [][]int64{nil, {}, {0}, {1}, {2}, {127}, {128}, {-1}, {0, 1}, {0, 2}, {1, 0}, {1, 1}, {1, 127}, {0, 1, 2}, upTo(128), upTo(129), upTo(100000), {math.MinInt64}, {math.MaxInt64}, {math.MinInt64, math.MaxInt64}, {0, math.MaxInt64}, make([]int64, 100000)}
+}
+
+func TestP1Field(t *testing.T) {
+	numbers := append(oddNumbers(), 3, 128, 142, 254, 255, 256, 257, 285, -255, -256)
+	for _, a := range numbers {
+		for _, b := range numbers {
+			results := func() []int64 { return []int64{impl.GfMul(a, b), impl.GfPow(a), impl.GfInverse(b)} }
+			got := results()
+			is(t, "results", got, results())
+			is(t, "elements", got[0]>>8 == 0 && got[1]>>8 == 0 && got[2]>>8 == 0, true)
+		}
+	}
+}
+
+func TestP1Parity(t *testing.T) {
+	texts := append(oddStrings(), "ab", "abc", zeros(63), zeros(64), zeros(65))
+	numbers := append(oddNumbers(), 3, 127, 128, 255, 256)
+	losses := oddLosses()
+	for i, blocks := range oddGroups() {
+		p, q, _ := impl.MakeParity(blocks)
+		for j, s := range texts {
+			for k, pair := range [][2]string{{p, q}, {s, q}, {p, s}, {s, s}, {"", q}, {p, ""}, {s, texts[(i+j)%len(texts)]}} {
+				n, before := numbers[(i+j+5*k)%len(numbers)], texts[(i+2*j+k)%len(texts)]
+				lost := losses[(2*i+j+3*k)%len(losses)]
+				results := func() []any {
+					return append(stage13Groups(blocks, pair[0], pair[1], before, s, n), stage13Lost(blocks, lost, pair[0], pair[1], n)...)
+				}
+				got := results()
+				if !reflect.DeepEqual(got, results()) {
+					t.Errorf("other results for group %d, %.40q and %.40q", i, pair[0], pair[1])
+				}
+				alone(t, "parity", got...)
+			}
+		}
+	}
+}
+
+func TestP1GroupsAreUnchanged(t *testing.T) {
+	for i, blocks := range oddGroups() {
+		short, all := filled(blocks, "room")
+		before := slices.Clone(all)
+		p, q, _ := impl.MakeParity(short)
+		for _, list := range oddLosses() {
+			lost, allLost := filled(list, 77)
+			beforeLost := slices.Clone(allLost)
+			for _, pair := range [][2]string{{p, q}, {"", q}, {p, ""}, {q, p}} {
+				stage13Groups(short, pair[0], pair[1], p, q, 1)
+				stage13Lost(short, lost, pair[0], pair[1], 1)
+			}
+			is(t, "indices", slices.Equal(allLost, beforeLost), true)
+		}
+		is(t, "group "+strconv.Itoa(i), slices.Equal(all, before), true)
+	}
+}
+
+func TestP1ResultsOfParityShareNoMemory(t *testing.T) {
+	blocks, lost := []string{"abc", "def", "ghi"}, []int64{0, 2}
+	p, q, _ := impl.MakeParity(blocks)
+	want := []any{slices.Clone(blocks), slices.Clone(lost)}
+	results := func() [][]string {
+		none, _ := impl.RestoreTwo(blocks, nil, p, q)
+		again, _ := impl.RestoreTwo(blocks, nil, "", "")
+		one, _ := impl.RestoreTwo(blocks, lost[:1], p, q)
+		other, _ := impl.RestoreTwo(blocks, lost[1:], "", q)
+		two, _ := impl.RestoreTwo(blocks, lost, p, q)
+		return [][]string{none, again, one, other, two}
+	}
+	before := results()
+	spoil(t, results())
+	is(t, "arguments", []any{blocks, lost}, want)
+	is(t, "later results", results(), before)
+}
+
+func TestP1NilAndEmptyGroupsAreAlike(t *testing.T) {
+	for _, n := range []int64{-1, 0, 1} {
+		for _, s := range []string{"", "a"} {
+			is(t, "groups", stage13Groups(nil, s, s, s, s, n), stage13Groups([]string{}, s, s, s, s, n))
+			is(t, "no group", stage13Lost(nil, nil, s, s, n), stage13Lost([]string{}, []int64{}, s, s, n))
+			is(t, "nothing is lost", stage13Lost([]string{"a"}, nil, s, s, n), stage13Lost([]string{"a"}, []int64{}, s, s, n))
+		}
+	}
+}
+
+func TestP1ParityAtTheSameTime(t *testing.T) {
+	var wait sync.WaitGroup
+	got := make([]string, 8)
+	groups := [][]string{}
+	from := source(721)
+	for range 20 {
+		groups = append(groups, from.group(int(2+from.below(127)), int(1+from.below(64))))
+	}
+	for i := range got {
+		wait.Go(func() {
+			for _, blocks := range groups {
+				p, q, _ := impl.MakeParity(blocks)
+				whole, _ := impl.RestoreTwo(blocks, []int64{0, int64(len(blocks) - 1)}, p, q)
+				nextP, nextQ, _ := impl.UpdateParity(p, q, 1, blocks[1], blocks[0])
+				found, _ := impl.FindDamaged(whole, nextP, nextQ)
+				got[i] += p + q + strings.Join(whole, "") + nextP + nextQ + strconv.FormatInt(found, 10)
+			}
+		})
+	}
+	wait.Wait()
+	for _, s := range got {
+		is(t, "parity and groups", s == got[0] && s != "", true)
+	}
+}
